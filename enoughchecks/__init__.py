@@ -1,0 +1,1 @@
+"""Enoughchecks: which comparisons of ways make sure that all ways agree."""

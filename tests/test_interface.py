@@ -1,0 +1,63 @@
+"""The interface: each name, its arguments, and the file in which it is defined."""
+
+import ast
+import importlib
+import pathlib
+import unittest
+
+PACKAGE = pathlib.Path(__file__).resolve().parent.parent / "enoughchecks"
+
+FUNCTIONS = {
+    "webs": {"is_way": ["web", "thing"], "ends": ["web", "way"], "passed": ["web", "way"],
+             "reached": ["web", "place"], "reaching": ["web", "place"], "between": ["web", "u", "v"]},
+    "ways": {"ways_many": ["web", "u", "v"], "way_number": ["web", "way"], "ways": ["web", "u", "v"],
+             "way_at": ["web", "u", "v", "number"]},
+    "changes": {"mirrored": ["web"], "numbered": ["web", "order"], "with_arrow": ["web", "u", "v"],
+                "without_arrow": ["web", "arrow"], "beside": ["web", "other_web"], "floor": ["web", "other_web"],
+                "cube": ["n"]},
+}
+# Of each class: its methods, listed ones and those that its arguments and its equality ask for.
+CLASSES = {
+    "webs": {"Web": {"__init__": ["self", "places", "arrows"], "__eq__": ["self", "other"]}},
+    "errors": {
+        "CheckError": {},
+        "BadWeb": {"__init__": ["self", "part", "at"]}, "TooMany": {"__init__": ["self", "most"]},
+        "BadText": {"__init__": ["self", "line"]}, "NoName": {"__init__": ["self", "name"]},
+        "NoAnswer": {"__init__": ["self", "check"]}, "NoWay": {}, "NoPlace": {}, "NoNumber": {}, "NoOrder": {},
+        "NoArrow": {}, "NoChecks": {}, "NoWorld": {}, "NoThing": {}, "NoPair": {}, "NotEnough": {}, "NoExchange": {},
+        "NoList": {}, "NoPrices": {}, "NoSort": {}, "NoTold": {}, "NoRoot": {}, "NoFailed": {}, "NoCheck": {},
+        "NothingDone": {}, "NoLine": {},
+    },
+}
+
+
+def defined(module, kind):
+    tree = ast.parse((PACKAGE / f"{module}.py").read_text())
+    return {node.name: node for node in tree.body if isinstance(node, kind)}
+
+
+def arguments(function):
+    return [argument.arg for argument in function.args.args]
+
+
+class Interface(unittest.TestCase):
+    def test_functions(self):
+        for module, functions in FUNCTIONS.items():
+            found = defined(module, ast.FunctionDef)
+            for name, expected in functions.items():
+                self.assertEqual(arguments(found[name]), expected, f"{module}.{name}")
+                self.assertEqual(found[name].args.defaults, [], f"{module}.{name}")
+                loaded = importlib.import_module(f"enoughchecks.{module}")
+                self.assertTrue(callable(getattr(loaded, name)))
+
+    def test_classes_and_their_methods(self):
+        for module, classes in CLASSES.items():
+            found = defined(module, ast.ClassDef)
+            for name, methods in classes.items():
+                own = {node.name: node for node in found[name].body if isinstance(node, ast.FunctionDef)}
+                for method, expected in methods.items():
+                    self.assertEqual(arguments(own[method]), expected, f"{module}.{name}.{method}")
+
+
+if __name__ == "__main__":
+    unittest.main()
