@@ -1,14 +1,28 @@
-"""What several modules need: integers, places, and the rows of arrows and places of a web."""
+"""What several modules need: integers, lots, places, the rows of arrows of a web, and what links hold together."""
 
 from enoughchecks.errors import NoPlace
 
 
-def whole_below(thing, limit):
-    """Tell whether a thing is an integer from 0 below the limit."""
+def is_whole(thing):
+    """Tell whether a thing is an integer from 0 on."""
     # For Python a flag is an int, for this package it is no integer.
     if not isinstance(thing, int) or isinstance(thing, bool):
         return False
-    return 0 <= thing < limit
+    return thing >= 0
+
+
+def whole_below(thing, limit):
+    """Tell whether a thing is an integer from 0 below the limit."""
+    return is_whole(thing) and thing < limit
+
+
+def is_lot(thing, limit):
+    """Tell whether a thing is an ascending tuple of integers from 0 below the limit."""
+    if not isinstance(thing, tuple):
+        return False
+    if not all([whole_below(item, limit) for item in thing]):
+        return False
+    return all([item < after for item, after in zip(thing, thing[1:])])
 
 
 def need_place(web, thing):
@@ -44,18 +58,52 @@ def onward_order(places, arrows):
     return order
 
 
-def spread(places, steps, start):
-    """Tell the lot of the places to which steps, pairs (from, to), lead from the start, itself too."""
-    rows = [[] for _ in range(places)]
-    for place, other in steps:
-        rows[place].append(other)
-    seen = [False] * places
-    seen[start] = True
+def _hanging(near, start):
+    """Tell the lot of what is come to from the start, itself too, near having a row of neighbours for each."""
+    seen = set([start])
     waiting = [start]
     while waiting:
-        place = waiting.pop()
-        for other in rows[place]:
-            if not seen[other]:
-                seen[other] = True
+        item = waiting.pop()
+        for other in near[item]:
+            if other not in seen:
+                seen.add(other)
                 waiting.append(other)
-    return tuple([place for place in range(places) if seen[place]])
+    return tuple(sorted(seen))
+
+
+def spread(places, steps, start):
+    """Tell the lot of the places to which steps, pairs (from, to), lead from the start, itself too."""
+    near = [[] for _ in range(places)]
+    for place, other in steps:
+        near[place].append(other)
+    return _hanging(near, start)
+
+
+def parts(items, links):
+    """List, ascending, the lots into which ascending items fall, held together by links, pairs of them."""
+    near = {item: [] for item in items}
+    for one, other in links:
+        near[one].append(other)
+        near[other].append(one)
+    placed = set()
+    found = []
+    for item in items:
+        if item not in placed:
+            lot = _hanging(near, item)
+            found.append(lot)
+            for other in lot:
+                placed.add(other)
+    return found
+
+
+def joining(many, links):
+    """List the indexes of the links, pairs of integers below many, that join what those ahead leave apart."""
+    marks = list(range(many))
+    found = []
+    for at, (one, other) in enumerate(links):
+        kept = marks[one]
+        gone = marks[other]
+        if kept != gone:
+            marks = [kept if mark == gone else mark for mark in marks]
+            found.append(at)
+    return found

@@ -7,7 +7,7 @@ from enoughchecks.webs import ends
 MOST_WAYS = 1500
 
 
-def _counts_to(web, v):
+def counts_to(web, v):
     """List, for each place, how many ways lead from it to v, and 1 for v itself."""
     rows = arrows_from(web.places, web.arrows)
     counts = [0] * web.places
@@ -24,7 +24,7 @@ def ways_many(web, u, v):
     need_place(web, v)
     if u == v:
         return 0
-    return _counts_to(web, v)[u]
+    return counts_to(web, v)[u]
 
 
 def ways(web, u, v):
@@ -34,7 +34,7 @@ def ways(web, u, v):
     found = []
     if u == v:
         return found
-    counts = _counts_to(web, v)
+    counts = counts_to(web, v)
     rows = arrows_from(web.places, web.arrows)
     begun = [((), u)]
     # The last one begun goes on first, so the least arrow is put there last.
@@ -53,7 +53,7 @@ def way_at(web, u, v, number):
     """Tell the way from u to v that has this index in the ascending list of them."""
     if not whole_below(number, ways_many(web, u, v)):
         raise NoNumber()
-    counts = _counts_to(web, v)
+    counts = counts_to(web, v)
     rows = arrows_from(web.places, web.arrows)
     way = []
     place = u
@@ -72,7 +72,7 @@ def way_at(web, u, v, number):
 def way_number(web, way):
     """Tell the index of a way in the ascending list of the ways with its ends."""
     _, v = ends(web, way)
-    counts = _counts_to(web, v)
+    counts = counts_to(web, v)
     rows = arrows_from(web.places, web.arrows)
     number = 0
     for arrow in way:

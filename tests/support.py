@@ -1,5 +1,6 @@
-"""What several tests need: wrong things, example webs, and slow but plain ways of counting."""
+"""What several tests need: wrong things, example webs, checks and worlds, and slow but plain ways of counting."""
 
+import itertools
 import random
 
 from enoughchecks.errors import NoWay
@@ -9,6 +10,8 @@ D = Web(4, ((0, 1), (0, 2), (1, 3), (2, 3)))
 T = Web(4, ((0, 1), (0, 2), (1, 3), (2, 3), (1, 2)))
 H = Web(2, ((0, 1), (0, 1), (0, 1)))
 S = Web(3, ((0, 1), (0, 1), (1, 2)))
+# Checks of T that are enough, as in the examples.
+C = [((0, 4), (1,)), ((2,), (4, 3))]
 
 
 def nested(kind, depth):
@@ -81,3 +84,104 @@ def wide_web():
     arrows = [(place, place + 1) for place in range(59) for _ in range(6)]
     arrows += [(place, place + 1) for place in range(46)]
     return Web(60, tuple(arrows))
+
+
+def double_row(steps):
+    """A web in which 2 ** steps ways lead from the first place to the last one."""
+    return Web(steps + 1, tuple((place, place + 1) for place in range(steps) for _ in range(2)))
+
+
+def plain_checks(web):
+    """All checks of the web, ascending."""
+    return sorted(check for u in range(web.places) for v in range(web.places)
+                  for check in itertools.combinations(plain_ways(web, u, v), 2))
+
+
+def some_checks(web, chooser, most=4):
+    """Some checks of the web in any order, at times as a list and at times as a tuple."""
+    every = plain_checks(web)
+    chosen = chooser.sample(every, min(len(every), chooser.randint(0, most)))
+    return chosen if chooser.random() < 0.5 else tuple(chosen)
+
+
+def plain_led(web, world, way, thing):
+    for arrow in way:
+        thing = world[1][arrow][thing]
+    return thing
+
+
+def agree(web, world, one, other):
+    begin = web.arrows[one[0]][0]
+    return all(plain_led(web, world, one, thing) == plain_led(web, world, other, thing)
+               for thing in range(world[0][begin]))
+
+
+def some_world(web, chooser, most=3):
+    """A world with up to most things at each place; places that reach one without things have none."""
+    sizes = [chooser.randint(0, most) for _ in range(web.places)]
+    for _ in range(web.places):
+        for begin, end in web.arrows:
+            if sizes[end] == 0:
+                sizes[begin] = 0
+    tables = [tuple(chooser.randrange(sizes[end]) for _ in range(sizes[begin])) for begin, end in web.arrows]
+    return (tuple(sizes), tuple(tables))
+
+
+def all_worlds(web, most):
+    """All worlds with up to most things at each place."""
+    for sizes in itertools.product(range(most + 1), repeat=web.places):
+        rows = [itertools.product(range(sizes[end]), repeat=sizes[begin]) for begin, end in web.arrows]
+        for tables in itertools.product(*rows):
+            yield (sizes, tables)
+
+
+def held_together(things, links):
+    """The ascending list of ascending lists into which things fall that links, pairs of them, hold together."""
+    lots = [[thing] for thing in sorted(things)]
+    for one, other in links:
+        joined = [lot for lot in lots if one in lot or other in lot]
+        lots = [lot for lot in lots if lot not in joined] + [sum(joined, [])]
+    return sorted(sorted(lot) for lot in lots)
+
+
+def places_between(web, way):
+    return {web.arrows[arrow][1] for arrow in way[:-1]}
+
+
+def plain_clusters(web, u, v):
+    """The ascending list of the pairs (as the cluster is told, its ways), found by which two ways touch."""
+    found = plain_ways(web, u, v)
+    touching = [(one, other) for one, other in itertools.combinations(found, 2)
+                if places_between(web, one) & places_between(web, other)]
+    told = []
+    for lot in held_together(found, touching):
+        if len(lot[0]) == 1:
+            told.append((("arrow", lot[0][0]), lot))
+        else:
+            places = set().union(*[places_between(web, way) for way in lot])
+            told.append((("places", tuple(sorted(places))), lot))
+    return sorted(told)
+
+
+def plain_groups(web, checks, u, v):
+    """The groups of clusters, found by listing all ways."""
+    home = {way: index for index, (_, lot) in enumerate(plain_clusters(web, u, v)) for way in lot}
+    links = [(home[one], home[other]) for one, other in checks if one in home]
+    return [tuple(lot) for lot in held_together(set(home.values()), links)]
+
+
+def plain_classes(web, checks, u, v):
+    """The lots of ways from u to v that are led to one another by replacing one side of a check by the other."""
+    found = plain_ways(web, u, v)
+    links = []
+    for way in found:
+        for one, other in checks:
+            for at in range(len(way)):
+                if way[at:at + len(one)] == one:
+                    links.append((way, way[:at] + other + way[at + len(one):]))
+    return held_together(found, links)
+
+
+def plainly_enough(web, checks):
+    """Whether all ways with the same ends come from one another by exchanges, whatever clusters there are."""
+    return all(len(plain_classes(web, checks, u, v)) <= 1 for u in range(web.places) for v in range(web.places))

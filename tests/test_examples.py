@@ -2,16 +2,32 @@
 
 import unittest
 
+from enoughchecks.clusters import clusters, holes
+from enoughchecks.enough import is_small_world, trees
 from enoughchecks.ways import ways
 from enoughchecks.webs import Web, between, passed
+
+d = Web(4, ((0, 1), (0, 2), (1, 3), (2, 3)))
+t = Web(4, ((0, 1), (0, 2), (1, 3), (2, 3), (1, 2)))
+h = Web(2, ((0, 1), (0, 1), (0, 1)))
+c = [((0, 4), (1,)), ((2,), (4, 3))]
 
 
 class Examples(unittest.TestCase):
     def test_e01(self):
-        t = Web(4, ((0, 1), (0, 2), (1, 3), (2, 3), (1, 2)))
         self.assertEqual(ways(t, 0, 3), [(0, 2), (0, 4, 3), (1, 3)])
         self.assertEqual(passed(t, (0, 4, 3)), (0, 1, 2, 3))
         self.assertEqual(between(t, 0, 3), (1, 2))
+
+    def test_e02(self):
+        self.assertEqual(clusters(d, 0, 3), [("places", (1,)), ("places", (2,))])
+        self.assertEqual(clusters(t, 0, 3), [("places", (1, 2))])
+        self.assertEqual(clusters(t, 0, 2), [("arrow", 1), ("places", (1,))])
+
+    def test_e03(self):
+        self.assertEqual(holes(t, [((0, 2), (1, 3))]), [(0, 2), (1, 3)])
+        self.assertEqual(trees(t, c), {(0, 2): (0,), (1, 3): (1,)})
+        self.assertIs(is_small_world(h, [((0,), (1,))], ((1, 2), ((0,), (0,), (1,)))), True)
 
 
 if __name__ == "__main__":

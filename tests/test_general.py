@@ -5,9 +5,16 @@ import unittest
 
 from enoughchecks import errors
 from enoughchecks.changes import beside, cube, floor, mirrored, numbered, with_arrow, without_arrow
+from enoughchecks.checking import checks_many, is_check
+from enoughchecks.clusters import cluster_of, cluster_sizes, clusters, groups, holes
+from enoughchecks.enough import enough, further, is_further, is_small_world, is_trees, lacking, small_world, spare
+from enoughchecks.enough import tidied, trees
 from enoughchecks.ways import way_at, way_number, ways, ways_many
 from enoughchecks.webs import Web, between, ends, is_way, passed, reached, reaching
-from tests.support import NO_NUMBERS_NO_TUPLES, ODD_TUPLES, T, nested, row_web
+from enoughchecks.worlds import failed, is_parted_ways, is_world, led, parted_pairs, parted_thing, parted_ways
+from tests.support import C, NO_NUMBERS_NO_TUPLES, ODD_TUPLES, T, double_row, nested, row_web
+
+ONE_EACH = ((1, 1, 1, 1), ((0,),) * 5)
 
 # Each call that names an error for an argument, and the error that is due for what is no number, no tuple.
 CALLS = [
@@ -37,6 +44,59 @@ CALLS = [
     ("with_arrow, v", lambda thing: with_arrow(T, 0, thing), errors.NoPlace),
     ("without_arrow", lambda thing: without_arrow(T, thing), errors.NoArrow),
     ("cube", lambda thing: cube(thing), errors.NoNumber),
+    ("led, world", lambda thing: led(T, thing, (0,), 0), errors.NoWorld),
+    ("led, sizes", lambda thing: led(T, (thing, ONE_EACH[1]), (0,), 0), errors.NoWorld),
+    ("led, tables", lambda thing: led(T, (ONE_EACH[0], thing), (0,), 0), errors.NoWorld),
+    ("led, a table", lambda thing: led(T, (ONE_EACH[0], ((0,), (0,), (0,), (0,), thing)), (0,), 0), errors.NoWorld),
+    ("led, way", lambda thing: led(T, ONE_EACH, thing, 0), errors.NoWay),
+    ("led, thing", lambda thing: led(T, ONE_EACH, (0,), thing), errors.NoThing),
+    ("parted_thing, world", lambda thing: parted_thing(T, thing, (0, 2), (1, 3)), errors.NoWorld),
+    ("parted_thing, one", lambda thing: parted_thing(T, ONE_EACH, thing, (1, 3)), errors.NoWay),
+    ("parted_thing, other", lambda thing: parted_thing(T, ONE_EACH, (0, 2), thing), errors.NoWay),
+    ("failed, world", lambda thing: failed(T, thing, C), errors.NoWorld),
+    ("failed, checks", lambda thing: failed(T, ONE_EACH, thing), errors.NoChecks),
+    ("parted_pairs", lambda thing: parted_pairs(T, thing), errors.NoWorld),
+    ("parted_ways, world", lambda thing: parted_ways(T, thing, 0, 3), errors.NoWorld),
+    ("parted_ways, u", lambda thing: parted_ways(T, ONE_EACH, thing, 3), errors.NoPlace),
+    ("parted_ways, v", lambda thing: parted_ways(T, ONE_EACH, 0, thing), errors.NoPlace),
+    ("is_parted_ways, world", lambda thing: is_parted_ways(T, thing, 0, 3, None), errors.NoWorld),
+    ("is_parted_ways, u", lambda thing: is_parted_ways(T, ONE_EACH, thing, 3, None), errors.NoPlace),
+    ("is_parted_ways, v", lambda thing: is_parted_ways(T, ONE_EACH, 0, thing, None), errors.NoPlace),
+    ("clusters, u", lambda thing: clusters(T, thing, 3), errors.NoPlace),
+    ("clusters, v", lambda thing: clusters(T, 0, thing), errors.NoPlace),
+    ("cluster_of", lambda thing: cluster_of(T, thing), errors.NoWay),
+    ("cluster_sizes, u", lambda thing: cluster_sizes(T, thing, 3), errors.NoPlace),
+    ("cluster_sizes, v", lambda thing: cluster_sizes(T, 0, thing), errors.NoPlace),
+    ("groups, checks", lambda thing: groups(T, thing, 0, 3), errors.NoChecks),
+    ("groups, u", lambda thing: groups(T, C, thing, 3), errors.NoPlace),
+    ("groups, v", lambda thing: groups(T, C, 0, thing), errors.NoPlace),
+    ("holes, checks", lambda thing: holes(T, thing), errors.NoChecks),
+    ("holes, a check", lambda thing: holes(T, [C[0], thing]), errors.NoChecks),
+    ("holes, a way", lambda thing: holes(T, (C[0], ((2,), thing))), errors.NoChecks),
+    ("enough, checks", lambda thing: enough(T, thing), errors.NoChecks),
+    ("trees, checks", lambda thing: trees(T, thing), errors.NoChecks),
+    ("is_trees, checks", lambda thing: is_trees(T, thing, thing), errors.NoChecks),
+    ("small_world, checks", lambda thing: small_world(T, thing), errors.NoChecks),
+    ("is_small_world, checks", lambda thing: is_small_world(T, thing, thing), errors.NoChecks),
+    ("lacking, checks", lambda thing: lacking(T, thing), errors.NoChecks),
+    ("further, checks", lambda thing: further(T, thing), errors.NoChecks),
+    ("is_further, checks", lambda thing: is_further(T, thing, thing), errors.NoChecks),
+    ("spare, checks", lambda thing: spare(T, thing), errors.NoChecks),
+    ("tidied, checks", lambda thing: tidied(T, thing), errors.NoChecks),
+]
+# Each function that judges any object, where none of those below is what it looks for.
+JUDGES = [
+    lambda thing: is_way(T, thing),
+    lambda thing: is_check(T, thing),
+    lambda thing: is_check(T, (thing, thing)),
+    lambda thing: is_world(T, thing),
+    lambda thing: is_world(T, (thing, thing)),
+    lambda thing: is_parted_ways(T, ONE_EACH, 0, 3, thing),
+    lambda thing: is_trees(T, C, thing),
+    lambda thing: is_trees(T, C, {(0, 2): thing, (1, 3): thing}),
+    lambda thing: is_small_world(T, C, thing),
+    lambda thing: is_further(T, C[:1], thing),
+    lambda thing: is_further(T, C[:1], [thing]),
 ]
 DEEP = [nested(list, 40), nested(tuple, 40), nested(dict, 40), [nested(tuple, 39)] * 200, (nested(list, 38), [T] * 50)]
 
@@ -50,11 +110,17 @@ def long_row(doublings):
     return web
 
 
+def fits(name, thing):
+    """Whether a thing is what is looked for after all: no arrows, or no checks."""
+    empty = isinstance(thing, (list, tuple)) and len(thing) == 0
+    return (name == "Web, arrows" and thing == ()) or (name.endswith(", checks") and empty)
+
+
 class AnyObject(unittest.TestCase):
     def test_each_call_raises_its_error_and_no_other(self):
         for name, call, error in CALLS:
             for thing in [*NO_NUMBERS_NO_TUPLES, *ODD_TUPLES, *DEEP]:
-                if name == "Web, arrows" and thing == ():
+                if fits(name, thing):
                     continue
                 with self.assertRaises(errors.CheckError, msg=name) as caught:
                     call(thing)
@@ -66,11 +132,13 @@ class AnyObject(unittest.TestCase):
                 with self.assertRaises(error, msg=name):
                     call(thing)
 
-    def test_is_way_judges_any_object_by_a_flag(self):
-        for thing in [*NO_NUMBERS_NO_TUPLES, *ODD_TUPLES, *DEEP, 0, 1, -1, 10 ** 59]:
-            self.assertIs(is_way(T, thing), False)
-        self.assertIs(is_way(T, (0, 2)), True)
-        self.assertIs(is_way(T, None), False)
+    def test_any_object_is_judged_by_a_flag(self):
+        for judge in JUDGES:
+            for thing in [*NO_NUMBERS_NO_TUPLES, *ODD_TUPLES, *DEEP, 0, 1, -1, 10 ** 59]:
+                self.assertIs(judge(thing), False)
+        for told in (is_way(T, (0, 2)), is_check(T, C[0]), is_world(T, ONE_EACH), is_further(T, C[:1], C[1:]),
+                     is_trees(T, C, trees(T, C)), is_small_world(T, [], small_world(T, []))):
+            self.assertIs(told, True)
 
     def test_wrong_things_are_not_changed(self):
         for _, call, _ in CALLS:
@@ -115,6 +183,38 @@ class NoRecursion(unittest.TestCase):
             with_arrow(web, 3839, 0)
         self.assertEqual(ways_many(mirrored(web), 3839, 0), 1)
         self.assertTrue(web == long_row(6))
+
+    def test_clusters_and_worlds_of_thousands_of_arrows(self):
+        web = long_row(6)
+        self.assertEqual(clusters(web, 0, 3839), [("places", tuple(range(1, 3839)))])
+        self.assertEqual(cluster_sizes(web, 0, 3839), [1])
+        way = way_at(web, 0, 3839, 0)
+        self.assertEqual(cluster_of(web, way), 0)
+        self.assertIs(is_check(web, (way, way)), False)
+        world = ((2,) * 3840, ((1, 0),) * 3839)
+        self.assertEqual(led(web, world, way, 0), 1)
+        self.assertIsNone(parted_ways(web, world, 0, 3839))
+        twice = with_arrow(web, 3838, 3839)
+        parting = (world[0], (*world[1], (1, 1)))
+        found = parted_ways(twice, parting, 0, 3839)
+        self.assertEqual(found, (way, (*way[:-1], 3839)))
+        self.assertEqual(failed(twice, parting, [found]), (0,))
+        self.assertEqual(groups(twice, [found], 3838, 3839), [(0,), (1,)])
+
+    def test_enough_of_hundreds_of_arrows(self):
+        web = double_row(59)
+        for _ in range(2):
+            half = web.places
+            web = with_arrow(beside(web, web), half - 1, half)
+        self.assertEqual((web.places, len(web.arrows)), (240, 475))
+        self.assertEqual(lacking(web, []), 236)
+        checks = further(web, [])
+        self.assertIs(enough(web, checks), True)
+        self.assertEqual(tidied(web, checks), tuple(range(236)))
+        self.assertEqual(checks_many(web), checks_many(mirrored(web)))
+        world = small_world(web, checks[1:])
+        self.assertIs(is_small_world(web, checks[1:], world), True)
+        self.assertEqual(parted_pairs(web, world), [(0, 1)])
 
 
 if __name__ == "__main__":

@@ -15,6 +15,17 @@ FUNCTIONS = {
     "changes": {"mirrored": ["web"], "numbered": ["web", "order"], "with_arrow": ["web", "u", "v"],
                 "without_arrow": ["web", "arrow"], "beside": ["web", "other_web"], "floor": ["web", "other_web"],
                 "cube": ["n"]},
+    "checking": {"is_check": ["web", "thing"], "checks_many": ["web"]},
+    "worlds": {"is_world": ["web", "thing"], "is_parted_ways": ["web", "world", "u", "v", "thing"],
+               "led": ["web", "world", "way", "thing"], "parted_thing": ["web", "world", "one", "other"],
+               "failed": ["web", "world", "checks"], "parted_pairs": ["web", "world"],
+               "parted_ways": ["web", "world", "u", "v"]},
+    "clusters": {"clusters": ["web", "u", "v"], "cluster_sizes": ["web", "u", "v"],
+                 "groups": ["web", "checks", "u", "v"], "holes": ["web", "checks"], "cluster_of": ["web", "way"]},
+    "enough": {"enough": ["web", "checks"], "is_trees": ["web", "checks", "thing"],
+               "is_small_world": ["web", "checks", "thing"], "is_further": ["web", "checks", "thing"],
+               "trees": ["web", "checks"], "small_world": ["web", "checks"], "lacking": ["web", "checks"],
+               "further": ["web", "checks"], "spare": ["web", "checks"], "tidied": ["web", "checks"]},
 }
 # Of each class: its methods, listed ones and those that its arguments and its equality ask for.
 CLASSES = {

@@ -7,15 +7,11 @@ from enoughchecks.changes import cube, floor, with_arrow
 from enoughchecks.errors import NoNumber, NoPlace, NoWay, TooMany
 from enoughchecks.ways import way_at, way_number, ways, ways_many
 from enoughchecks.webs import Web, ends, is_way
-from tests.support import D, H, S, T, WRONG_NUMBERS, WRONG_TUPLES, plain_ways, row_web, some_webs, wide_web
+from tests.support import D, H, S, T, WRONG_NUMBERS, WRONG_TUPLES, double_row, plain_ways, row_web, some_webs
+from tests.support import wide_web
 
 # 13 places behind the first one are passed by 7 or 6 arrows each, so that these are ways from 0 to 59.
 WIDE_MANY = 7 ** 46 * 6 ** 13
-
-
-def double_row(steps):
-    """A web in which 2 ** steps ways lead from the first place to the last one."""
-    return Web(steps + 1, tuple((place, place + 1) for place in range(steps) for _ in range(2)))
 
 
 class WaysTest(unittest.TestCase):
