@@ -156,5 +156,5 @@ def tidied(web, checks):
     found = trees(web, checks)
     if found is None:
         raise NotEnough()
-    # A check can be left out, those behind it being gone, just if those ahead of it hold its clusters together.
+    # To leave out from the last one on keeps just those that join what all ahead of them leave apart: the trees.
     return tuple(sorted([check for lot in found.values() for check in lot]))
