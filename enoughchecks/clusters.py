@@ -2,7 +2,7 @@
 
 from enoughchecks.basics import arrows_from, parts
 from enoughchecks.checking import need_checks
-from enoughchecks.ways import counts_to
+from enoughchecks.ways import counts_to, way_at, way_number
 from enoughchecks.webs import between, ends, reached
 
 
@@ -66,17 +66,52 @@ def cluster_of(web, way):
     return cluster_among(web, clusters(web, u, v), way)
 
 
-def cluster_sizes(web, u, v):
-    """List how many ways each cluster from u to v has."""
-    told = clusters(web, u, v)
+def _into(web, u, lot):
+    """List, ascending, the arrows from u to the places of a lot."""
+    return [arrow for arrow, (begin, end) in enumerate(web.arrows) if begin == u and end in lot]
+
+
+def sizes_among(web, u, v, told):
+    """List how many ways each of the clusters told from u to v has."""
     counts = counts_to(web, v)
     found = []
     for kind, lot in told:
         if kind == "arrow":
             found.append(1)
         else:
-            found.append(sum([counts[end] for begin, end in web.arrows if begin == u and end in lot]))
+            found.append(sum([counts[web.arrows[arrow][1]] for arrow in _into(web, u, lot)]))
     return found
+
+
+def cluster_sizes(web, u, v):
+    """List how many ways each cluster from u to v has."""
+    return sizes_among(web, u, v, clusters(web, u, v))
+
+
+def way_within(web, u, v, cluster, number):
+    """Tell the way that has this index among the ascending ways of a cluster from u to v."""
+    kind, lot = cluster
+    if kind == "arrow":
+        return (lot,)
+    counts = counts_to(web, v)
+    left = number
+    for first in _into(web, u, lot):
+        place = web.arrows[first][1]
+        if left < counts[place]:
+            break
+        left -= counts[place]
+    return (first, *way_at(web, place, v, left))
+
+
+def number_within(web, cluster, way):
+    """Tell the index of a way among the ascending ways of its cluster."""
+    kind, lot = cluster
+    if kind == "arrow":
+        return 0
+    u, v = ends(web, way)
+    counts = counts_to(web, v)
+    lesser = [arrow for arrow in _into(web, u, lot) if arrow < way[0]]
+    return sum([counts[web.arrows[arrow][1]] for arrow in lesser]) + way_number(web, way[1:])
 
 
 def check_links(web, checks, told):

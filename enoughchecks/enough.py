@@ -2,11 +2,12 @@
 
 from enoughchecks.basics import is_lot, joining
 from enoughchecks.checking import are_checks, need_checks
-from enoughchecks.clusters import check_links, cluster_of, groups, groups_by, holes, wide_clusters, wide_groups
+from enoughchecks.clusters import check_links, cluster_of, groups, groups_by, holes, way_within, wide_clusters
+from enoughchecks.clusters import wide_groups
 from enoughchecks.errors import NotEnough
 from enoughchecks.ways import way_at
 from enoughchecks.webs import reached
-from enoughchecks.worlds import is_world, parted_pairs, way_table
+from enoughchecks.worlds import is_world, parted_pairs, passes_all
 
 
 def enough(web, checks):
@@ -90,24 +91,13 @@ def is_small_world(web, checks, thing):
     sizes, _ = thing
     if len([size for size in sizes if size > 1]) > 1:
         return False
-    if any([way_table(thing, one) != way_table(thing, other) for one, other in checks]):
-        return False
-    return len(parted_pairs(web, thing)) > 0
+    return passes_all(thing, checks) and len(parted_pairs(web, thing)) > 0
 
 
 def lacking(web, checks):
     """Tell the least number of further checks behind which the checks are enough."""
     need_checks(web, checks)
     return sum([len(lots) - 1 for lots in wide_groups(web, checks).values()])
-
-
-def _way_in(web, u, v, cluster):
-    """Tell the least way of a cluster from u to v."""
-    kind, lot = cluster
-    if kind == "arrow":
-        return (lot,)
-    first = min([arrow for arrow, (begin, end) in enumerate(web.arrows) if begin == u and end in lot])
-    return (first, *way_at(web, web.arrows[first][1], v, 0))
 
 
 def further(web, checks):
@@ -119,7 +109,7 @@ def further(web, checks):
     for pair in sorted(told):
         u, v = pair
         lots = groups_by(told[pair], links[pair])
-        one, *others = [_way_in(web, u, v, told[pair][lot[0]]) for lot in lots]
+        one, *others = [way_within(web, u, v, told[pair][lot[0]], 0) for lot in lots]
         found.extend([(min(one, other), max(one, other)) for other in others])
     return found
 

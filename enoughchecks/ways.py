@@ -79,3 +79,24 @@ def way_number(web, way):
         lesser = [other for other in rows[web.arrows[arrow][0]] if other < arrow]
         number += sum([counts[web.arrows[other][1]] for other in lesser])
     return number
+
+
+def ways_in_all(web):
+    """Tell how many ways the whole web has."""
+    rows = arrows_from(web.places, web.arrows)
+    counts = [0] * web.places
+    for place in reversed(onward_order(web.places, web.arrows)):
+        counts[place] = sum([counts[web.arrows[arrow][1]] + 1 for arrow in rows[place]])
+    return sum(counts)
+
+
+def every_way(web):
+    """List, ascending, all ways of the whole web, however many there are."""
+    rows = arrows_from(web.places, web.arrows)
+    found = [(arrow,) for arrow in range(len(web.arrows))]
+    done = 0
+    while done < len(found):
+        way = found[done]
+        found.extend([(*way, arrow) for arrow in rows[web.arrows[way[-1]][1]]])
+        done += 1
+    return sorted(found)

@@ -1,7 +1,7 @@
 """Webs, their ways, and which places reach which."""
 
 from enoughchecks.basics import need_place, onward_order, spread, whole_below
-from enoughchecks.errors import BadWeb, NoWay
+from enoughchecks.errors import BadWeb, NoPair, NoWay
 
 MOST_PLACES = 60
 MOST_ARROWS = 400
@@ -58,6 +58,14 @@ def ends(web, way):
     if not is_way(web, way):
         raise NoWay()
     return (web.arrows[way[0]][0], web.arrows[way[-1]][1])
+
+
+def common_ends(web, one, other):
+    """Tell the pair of the begin and the end of two ways, or raise NoPair if they have other ones."""
+    pair = ends(web, one)
+    if ends(web, other) != pair:
+        raise NoPair()
+    return pair
 
 
 def passed(web, way):

@@ -2,8 +2,8 @@
 
 from enoughchecks.basics import arrows_from, is_whole, need_place, onward_order, whole_below
 from enoughchecks.checking import is_check, need_checks
-from enoughchecks.errors import NoPair, NoThing, NoWorld
-from enoughchecks.webs import ends
+from enoughchecks.errors import NoThing, NoWorld
+from enoughchecks.webs import common_ends, ends
 
 # Stands in the place of the one thing where there are unlike ones.
 SEVERAL = "several"
@@ -67,21 +67,28 @@ def way_table(world, way):
 def parted_thing(web, world, one, other):
     """Tell the least thing that two ways with the same ends lead to unlike ones, or None."""
     need_world(web, world)
-    pair = ends(web, one)
-    if ends(web, other) != pair:
-        raise NoPair()
+    common_ends(web, one, other)
     for thing, (here, there) in enumerate(zip(way_table(world, one), way_table(world, other))):
         if here != there:
             return thing
     return None
 
 
+def agree(world, one, other):
+    """Tell whether two ways with the same ends lead each thing to the same."""
+    return way_table(world, one) == way_table(world, other)
+
+
+def passes_all(world, checks):
+    """Tell whether the ways of each of the checks agree in the world."""
+    return all([agree(world, one, other) for one, other in checks])
+
+
 def failed(web, world, checks):
     """Tell the lot of the checks whose ways do not agree in the world."""
     need_world(web, world)
     need_checks(web, checks)
-    return tuple([
-        index for index, (one, other) in enumerate(checks) if way_table(world, one) != way_table(world, other)])
+    return tuple([index for index, (one, other) in enumerate(checks) if not agree(world, one, other)])
 
 
 def _one_of(things):
@@ -165,4 +172,4 @@ def is_parted_ways(web, world, u, v, thing):
     if not is_check(web, thing):
         return False
     one, other = thing
-    return ends(web, one) == (u, v) and way_table(world, one) != way_table(world, other)
+    return ends(web, one) == (u, v) and not agree(world, one, other)

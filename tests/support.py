@@ -185,3 +185,42 @@ def plain_classes(web, checks, u, v):
 def plainly_enough(web, checks):
     """Whether all ways with the same ends come from one another by exchanges, whatever clusters there are."""
     return all(len(plain_classes(web, checks, u, v)) <= 1 for u in range(web.places) for v in range(web.places))
+
+
+def many_ways_web(many):
+    """A web of three places with 1500 ways from the first one to the last one, and further arrows up to so many."""
+    return Web(3, ((0, 1),) * 30 + ((1, 2),) * 50 + ((0, 2),) * (many - 1500))
+
+
+def ways_of(web):
+    """All ways of the whole web, ascending."""
+    return sorted(way for u in range(web.places) for v in range(web.places) for way in plain_ways(web, u, v))
+
+
+def home_of_ways(web, checks):
+    """Of each way the least one from which it follows, found by exchanging."""
+    lots = [lot for u in range(web.places) for v in range(web.places) for lot in plain_classes(web, checks, u, v)]
+    return {way: lot[0] for lot in lots for way in lot}
+
+
+def shuffled_world(web, world, chooser):
+    """The same world with its things numbered in another order."""
+    orders = [chooser.sample(range(size), size) for size in world[0]]
+    tables = []
+    for (begin, end), table in zip(web.arrows, world[1]):
+        row = [None] * len(table)
+        for thing, to in enumerate(table):
+            row[orders[begin][thing]] = orders[end][to]
+        tables.append(tuple(row))
+    return (world[0], tuple(tables))
+
+
+def changed_world(web, world, chooser):
+    """The world with one table's item replaced, perhaps by the same one; None if there is none."""
+    places = [(arrow, at) for arrow, table in enumerate(world[1]) for at in range(len(table))]
+    if not places:
+        return None
+    arrow, at = chooser.choice(places)
+    tables = [list(table) for table in world[1]]
+    tables[arrow][at] = chooser.randrange(world[0][web.arrows[arrow][1]])
+    return (world[0], tuple(tuple(table) for table in tables))

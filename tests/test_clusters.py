@@ -5,7 +5,7 @@ import random
 import unittest
 
 from enoughchecks.changes import beside, cube, floor, mirrored
-from enoughchecks.clusters import cluster_of, cluster_sizes, clusters, groups, holes
+from enoughchecks.clusters import cluster_of, cluster_sizes, clusters, groups, holes, number_within, way_within
 from enoughchecks.errors import NoChecks, NoPlace, NoWay
 from enoughchecks.ways import way_at, ways, ways_many
 from enoughchecks.webs import Web, between, reached
@@ -272,6 +272,23 @@ class ErrorsTest(unittest.TestCase):
             for u, v in all_pairs(web):
                 homes = [cluster_of(web, way) for way in ways(web, u, v)]
                 self.assertEqual([homes.count(k) for k in range(len(clusters(web, u, v)))], cluster_sizes(web, u, v))
+
+
+class WithinTest(unittest.TestCase):
+    def test_each_way_of_a_cluster_by_its_index(self):
+        for web in some_webs(80):
+            for u, v in all_pairs(web):
+                for told, lot in plain_clusters(web, u, v):
+                    self.assertEqual([way_within(web, u, v, told, number) for number in range(len(lot))], lot)
+                    self.assertEqual([number_within(web, told, way) for way in lot], list(range(len(lot))))
+
+    def test_where_they_could_not_be_listed(self):
+        web = wide_web()
+        told = clusters(web, 0, 59)[0]
+        many = ways_many(web, 0, 59)
+        for number in (0, 10 ** 40, many - 1):
+            self.assertEqual(way_within(web, 0, 59, told, number), way_at(web, 0, 59, number))
+            self.assertEqual(number_within(web, told, way_at(web, 0, 59, number)), number)
 
 
 if __name__ == "__main__":

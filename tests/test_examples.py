@@ -2,8 +2,12 @@
 
 import unittest
 
+from enoughchecks.chains import classes, exchanged
+from enoughchecks.changes import cube
 from enoughchecks.clusters import clusters, holes
+from enoughchecks.counting import least_many
 from enoughchecks.enough import is_small_world, trees
+from enoughchecks.leasts import least_list, least_number
 from enoughchecks.ways import ways
 from enoughchecks.webs import Web, between, passed
 
@@ -28,6 +32,16 @@ class Examples(unittest.TestCase):
         self.assertEqual(holes(t, [((0, 2), (1, 3))]), [(0, 2), (1, 3)])
         self.assertEqual(trees(t, c), {(0, 2): (0,), (1, 3): (1,)})
         self.assertIs(is_small_world(h, [((0,), (1,))], ((1, 2), ((0,), (0,), (1,)))), True)
+
+    def test_e04(self):
+        self.assertEqual(exchanged(t, c, (0, 4, 3), (0, 0, False)), (1, 3))
+        self.assertEqual(classes(t, c[:1], 0, 3), [((0, 2),), ((0, 4, 3), (1, 3))])
+
+    def test_e05(self):
+        self.assertEqual(least_list(t), (((0, 4), (1,)), ((2,), (4, 3))))
+        self.assertEqual(least_list(h), (((0,), (1,)), ((0,), (2,))))
+        self.assertEqual(least_many(h), 3)
+        self.assertEqual(least_number(cube(3)), 6)
 
 
 if __name__ == "__main__":

@@ -4,13 +4,17 @@ import copy
 import unittest
 
 from enoughchecks import errors
+from enoughchecks.chains import chain, classes, exchanged, follows, is_chain
 from enoughchecks.changes import beside, cube, floor, mirrored, numbered, with_arrow, without_arrow
 from enoughchecks.checking import checks_many, is_check
 from enoughchecks.clusters import cluster_of, cluster_sizes, clusters, groups, holes
+from enoughchecks.counting import least_at, least_index, least_many
 from enoughchecks.enough import enough, further, is_further, is_small_world, is_trees, lacking, small_world, spare
 from enoughchecks.enough import tidied, trees
+from enoughchecks.leasts import is_least, least_list, least_number
 from enoughchecks.ways import way_at, way_number, ways, ways_many
 from enoughchecks.webs import Web, between, ends, is_way, passed, reached, reaching
+from enoughchecks.wholes import beyond, is_world_of_all, world_of_all
 from enoughchecks.worlds import failed, is_parted_ways, is_world, led, parted_pairs, parted_thing, parted_ways
 from tests.support import C, NO_NUMBERS_NO_TUPLES, ODD_TUPLES, T, double_row, nested, row_web
 
@@ -83,6 +87,30 @@ CALLS = [
     ("is_further, checks", lambda thing: is_further(T, thing, thing), errors.NoChecks),
     ("spare, checks", lambda thing: spare(T, thing), errors.NoChecks),
     ("tidied, checks", lambda thing: tidied(T, thing), errors.NoChecks),
+    ("exchanged, checks", lambda thing: exchanged(T, thing, (0, 2), thing), errors.NoChecks),
+    ("exchanged, way", lambda thing: exchanged(T, C, thing, thing), errors.NoWay),
+    ("exchanged, thing", lambda thing: exchanged(T, C, (0, 4, 3), thing), errors.NoExchange),
+    ("exchanged, a check's number", lambda thing: exchanged(T, C, (0, 4, 3), (thing, 0, False)), errors.NoExchange),
+    ("exchanged, an index", lambda thing: exchanged(T, C, (0, 4, 3), (0, thing, False)), errors.NoExchange),
+    ("follows, checks", lambda thing: follows(T, thing, (0, 2), (1, 3)), errors.NoChecks),
+    ("follows, one", lambda thing: follows(T, C, thing, (1, 3)), errors.NoWay),
+    ("follows, other", lambda thing: follows(T, C, (0, 2), thing), errors.NoWay),
+    ("chain, checks", lambda thing: chain(T, thing, (0, 2), (1, 3)), errors.NoChecks),
+    ("chain, one", lambda thing: chain(T, C, thing, (1, 3)), errors.NoWay),
+    ("chain, other", lambda thing: chain(T, C, (0, 2), thing), errors.NoWay),
+    ("is_chain, checks", lambda thing: is_chain(T, thing, (0, 2), (1, 3), thing), errors.NoChecks),
+    ("is_chain, one", lambda thing: is_chain(T, C, thing, (1, 3), thing), errors.NoWay),
+    ("is_chain, other", lambda thing: is_chain(T, C, (0, 2), thing, thing), errors.NoWay),
+    ("classes, checks", lambda thing: classes(T, thing, 0, 3), errors.NoChecks),
+    ("classes, u", lambda thing: classes(T, C, thing, 3), errors.NoPlace),
+    ("classes, v", lambda thing: classes(T, C, 0, thing), errors.NoPlace),
+    ("world_of_all, checks", lambda thing: world_of_all(T, thing), errors.NoChecks),
+    ("is_world_of_all, checks", lambda thing: is_world_of_all(T, thing, thing), errors.NoChecks),
+    ("beyond, checks", lambda thing: beyond(T, thing, C), errors.NoChecks),
+    ("beyond, more, checks", lambda thing: beyond(T, C, thing), errors.NoChecks),
+    ("least_at", lambda thing: least_at(T, thing), errors.NoNumber),
+    ("least_index", lambda thing: least_index(T, thing), errors.NoList),
+    ("least_index, a check", lambda thing: least_index(T, (C[0], thing)), errors.NoList),
 ]
 # Each function that judges any object, where none of those below is what it looks for.
 JUDGES = [
@@ -97,6 +125,14 @@ JUDGES = [
     lambda thing: is_small_world(T, C, thing),
     lambda thing: is_further(T, C[:1], thing),
     lambda thing: is_further(T, C[:1], [thing]),
+    lambda thing: is_chain(T, C, (0, 2), (1, 3), thing),
+    lambda thing: is_chain(T, C, (0, 4, 3), (1, 3), (thing,)),
+    lambda thing: is_chain(T, C, (0, 4, 3), (0, 2), ((thing, 2, True),)),
+    lambda thing: is_chain(T, C, (0, 4, 3), (1, 3), ((0, thing, thing),)),
+    lambda thing: is_world_of_all(T, C, thing),
+    lambda thing: is_world_of_all(T, C, (thing, thing)),
+    lambda thing: is_least(T, thing),
+    lambda thing: is_least(T, (C[0], thing)),
 ]
 DEEP = [nested(list, 40), nested(tuple, 40), nested(dict, 40), [nested(tuple, 39)] * 200, (nested(list, 38), [T] * 50)]
 
@@ -137,7 +173,9 @@ class AnyObject(unittest.TestCase):
             for thing in [*NO_NUMBERS_NO_TUPLES, *ODD_TUPLES, *DEEP, 0, 1, -1, 10 ** 59]:
                 self.assertIs(judge(thing), False)
         for told in (is_way(T, (0, 2)), is_check(T, C[0]), is_world(T, ONE_EACH), is_further(T, C[:1], C[1:]),
-                     is_trees(T, C, trees(T, C)), is_small_world(T, [], small_world(T, []))):
+                     is_trees(T, C, trees(T, C)), is_small_world(T, [], small_world(T, [])), is_least(T, tuple(C)),
+                     is_chain(T, C, (0, 2), (1, 3), chain(T, C, (0, 2), (1, 3))),
+                     is_world_of_all(T, C, world_of_all(T, C))):
             self.assertIs(told, True)
 
     def test_wrong_things_are_not_changed(self):
@@ -200,6 +238,12 @@ class NoRecursion(unittest.TestCase):
         self.assertEqual(found, (way, (*way[:-1], 3839)))
         self.assertEqual(failed(twice, parting, [found]), (0,))
         self.assertEqual(groups(twice, [found], 3838, 3839), [(0,), (1,)])
+        self.assertEqual(chain(twice, [found], found[1], found[0]), ((0, 0, True),))
+        last = (way[-1:], (3839,))
+        self.assertEqual(exchanged(twice, [last], way, (0, 3838, False)), found[1])
+        self.assertEqual(chain(twice, [last], *found), ((0, 3838, False),))
+        self.assertEqual(classes(twice, [last], 0, 3839), [found])
+        self.assertEqual(beyond(twice, [], [found]), (0,))
 
     def test_enough_of_hundreds_of_arrows(self):
         web = double_row(59)
@@ -212,6 +256,10 @@ class NoRecursion(unittest.TestCase):
         self.assertIs(enough(web, checks), True)
         self.assertEqual(tidied(web, checks), tuple(range(236)))
         self.assertEqual(checks_many(web), checks_many(mirrored(web)))
+        self.assertEqual(least_number(web), 236)
+        self.assertEqual(least_many(web), 1)
+        self.assertEqual(least_index(web, least_list(web)), 0)
+        self.assertEqual(least_at(web, 0), tuple(sorted(checks)))
         world = small_world(web, checks[1:])
         self.assertIs(is_small_world(web, checks[1:], world), True)
         self.assertEqual(parted_pairs(web, world), [(0, 1)])

@@ -26,6 +26,13 @@ FUNCTIONS = {
                "is_small_world": ["web", "checks", "thing"], "is_further": ["web", "checks", "thing"],
                "trees": ["web", "checks"], "small_world": ["web", "checks"], "lacking": ["web", "checks"],
                "further": ["web", "checks"], "spare": ["web", "checks"], "tidied": ["web", "checks"]},
+    "chains": {"exchanged": ["web", "checks", "way", "thing"], "follows": ["web", "checks", "one", "other"],
+               "is_chain": ["web", "checks", "one", "other", "thing"], "chain": ["web", "checks", "one", "other"],
+               "classes": ["web", "checks", "u", "v"]},
+    "wholes": {"world_of_all": ["web", "checks"], "is_world_of_all": ["web", "checks", "thing"],
+               "beyond": ["web", "checks", "more"]},
+    "leasts": {"least_number": ["web"], "least_pairs": ["web"], "is_least": ["web", "thing"], "least_list": ["web"]},
+    "counting": {"least_many": ["web"], "least_index": ["web", "thing"], "least_at": ["web", "number"]},
 }
 # Of each class: its methods, listed ones and those that its arguments and its equality ask for.
 CLASSES = {

@@ -86,6 +86,7 @@ class Imports(unittest.TestCase):
                 package, _, module = node.module.partition(".")
                 self.assertEqual(package, "enoughchecks", name)
                 own = {part.name for part in trees[f"{module}.py"].body if hasattr(part, "name")}
+                own |= {part.targets[0].id for part in trees[f"{module}.py"].body if isinstance(part, ast.Assign)}
                 self.assertLessEqual(words, own, name)
 
     def test_l16_no_two_files_import_from_each_other(self):

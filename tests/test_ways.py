@@ -5,10 +5,10 @@ import unittest
 
 from enoughchecks.changes import cube, floor, with_arrow
 from enoughchecks.errors import NoNumber, NoPlace, NoWay, TooMany
-from enoughchecks.ways import way_at, way_number, ways, ways_many
+from enoughchecks.ways import every_way, way_at, way_number, ways, ways_in_all, ways_many
 from enoughchecks.webs import Web, ends, is_way
 from tests.support import D, H, S, T, WRONG_NUMBERS, WRONG_TUPLES, double_row, plain_ways, row_web, some_webs
-from tests.support import wide_web
+from tests.support import ways_of, wide_web
 
 # 13 places behind the first one are passed by 7 or 6 arrows each, so that these are ways from 0 to 59.
 WIDE_MANY = 7 ** 46 * 6 ** 13
@@ -162,6 +162,17 @@ class NumbersTest(unittest.TestCase):
         for thing in (*WRONG_TUPLES, (5,), (-1,), (0, 3), (0, 2, 3), [0, 2], (0, True)):
             with self.assertRaises(NoWay):
                 way_number(T, thing)
+
+
+class WholeWebTest(unittest.TestCase):
+    def test_all_ways_of_a_web(self):
+        for web in some_webs(80):
+            self.assertEqual(every_way(web), ways_of(web))
+            self.assertEqual(ways_in_all(web), len(ways_of(web)))
+
+    def test_how_many_where_they_could_not_be_listed(self):
+        self.assertEqual(ways_in_all(row_web(60)), 59 * 60 // 2)
+        self.assertEqual(ways_in_all(double_row(59)), sum(2 ** steps * (60 - steps) for steps in range(1, 60)))
 
 
 if __name__ == "__main__":
