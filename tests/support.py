@@ -3,7 +3,7 @@
 import itertools
 import random
 
-from enoughchecks.errors import NoWay
+from enoughchecks.errors import NoChecks, NoPair, NoSort, NoTold, NoWay
 from enoughchecks.webs import Web
 
 D = Web(4, ((0, 1), (0, 2), (1, 3), (2, 3)))
@@ -44,6 +44,14 @@ ODD_TUPLES = [
 
 WRONG_NUMBERS = [-1, -2, -10 ** 59, 10 ** 59, 10 ** 60 - 1, *NO_NUMBERS_NO_TUPLES, *ODD_TUPLES, (0,), (0, 1)]
 WRONG_TUPLES = [0, 1, -1, 10 ** 59, *NO_NUMBERS_NO_TUPLES, *ODD_TUPLES]
+
+# What are no ways, checks, sorts and told arrows of T.
+WRONG_WAYS = [*WRONG_TUPLES, (0, 1), (5,), [0, 2], (True, 3)]
+NO_CHECKS = [None, [C[0], C[0]], C[0], {}, "ab", [None], [((1,), (0, 4))], 0, True, [[(0, 4), (1,)]]]
+NO_SORTS = [*NO_NUMBERS_NO_TUPLES, *ODD_TUPLES, 0, 1, "on", "One", "ONE", "onto ", "one onto", "o", b"one", b"onto",
+            ("one",), ["onto"], ("one", "onto")]
+NO_TOLD = [*NO_NUMBERS_NO_TUPLES, 0, 1, [2], (-1,), (1, 0), (0, 0), (True,), (0, True), (None,), ("0",), ((0,),),
+           (0, None), (10 ** 59,), nested(tuple, 40), "one", (0, 2, 1), (5,), (0, 1, 2, 3, 4, 5)]
 
 
 def plain_ways(web, u, v):
@@ -224,3 +232,85 @@ def changed_world(web, world, chooser):
     tables = [list(table) for table in world[1]]
     tables[arrow][at] = chooser.randrange(world[0][web.arrows[arrow][1]])
     return (world[0], tuple(tuple(table) for table in tables))
+
+
+def raises_told_errors(case, call):
+    """Assert that a call of 8.1 or 8.2 raises the errors for checks, sort and told arrows, in this order."""
+    for checks in NO_CHECKS:
+        with case.assertRaises(NoChecks):
+            call(T, checks, None, None, None, None)
+    for sort in NO_SORTS:
+        with case.assertRaises(NoSort):
+            call(T, C, sort, None, None, None)
+    for told in NO_TOLD:
+        with case.assertRaises(NoTold):
+            call(T, C, "one", told, None, None)
+
+
+def raises_told_errors_first(case, call):
+    """Assert that a call of 8.1 or 8.2 raises these errors also where the web has too many ways."""
+    web = Web(3, ((0, 1),) * 301 + ((1, 2),))
+    for checks, sort, told, error in (([None], "one", (), NoChecks), ([], "two", (), NoSort), ([], "one", [0], NoTold)):
+        with case.assertRaises(error):
+            call(web, checks, sort, told, (0,), (0,))
+
+
+def raises_pair_errors(case, call):
+    """Assert that a call of 8.1 or 8.2 raises the errors for its two ways, in their order and ahead of TooMany."""
+    for way in WRONG_WAYS:
+        with case.assertRaises(NoWay):
+            call(T, C, "one", (), way, None)
+        with case.assertRaises(NoWay):
+            call(T, C, "onto", (0,), (0,), way)
+    for one, other in (((0, 2), (0,)), ((0,), (1,)), ((2,), (0, 2)), ((0, 4), (0, 4, 3))):
+        with case.assertRaises(NoPair):
+            call(T, C, "one", (0, 1), one, other)
+    web = Web(3, ((0, 1),) * 301 + ((1, 2),))
+    for other, error in (((302,), NoWay), ((0, 301), NoPair)):
+        with case.assertRaises(error):
+            call(web, [], "onto", (), (0,), other)
+
+
+def struck_pairs(sort, told, one, other):
+    """What two ways that surely follow tell by a strike: a list of one pair, or of none."""
+    if sort == "one" and one[-1] == other[-1] and one[-1] in told:
+        return [(one[:-1], other[:-1])]
+    if sort == "onto" and one[0] == other[0] and one[0] in told:
+        return [(one[1:], other[1:])]
+    return []
+
+
+def plain_homes(web, checks, sort, told):
+    """Of each way the least one from which it surely follows, by trying every rule on all pairs again and again."""
+    homes = {way: way for way in ways_of(web)}
+    while True:
+        pairs = list(checks)
+        for one, other in itertools.combinations(homes, 2):
+            if homes[one] == homes[other]:
+                for arrow in range(len(web.arrows)):
+                    pairs.append(((arrow, *one), (arrow, *other)))
+                    pairs.append(((*one, arrow), (*other, arrow)))
+                pairs.extend(struck_pairs(sort, told, one, other))
+        joined = [(one, other) for one, other in pairs if one in homes and homes[one] != homes[other]]
+        if not joined:
+            return homes
+        for one, other in joined:
+            least, most = sorted((homes[one], homes[other]))
+            homes = {way: least if home == most else home for way, home in homes.items()}
+
+
+def some_told(web, chooser):
+    """Some arrows of the web, at times none and at times all."""
+    many = len(web.arrows)
+    return tuple(sorted(chooser.sample(range(many), chooser.choice((0, many, chooser.randint(0, many))))))
+
+
+def plainly_so(web, sort, told, world):
+    """Whether each told arrow is one-to-one or onto in a world, as the sort asks."""
+    for arrow in told:
+        end = web.arrows[arrow][1]
+        if sort == "one" and len(set(world[1][arrow])) < len(world[1][arrow]):
+            return False
+        if sort == "onto" and set(world[1][arrow]) != set(range(world[0][end])):
+            return False
+    return True

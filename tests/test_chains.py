@@ -9,10 +9,10 @@ from enoughchecks.changes import cube
 from enoughchecks.enough import further
 from enoughchecks.errors import NoChecks, NoExchange, NoPair, NoPlace, NoWay, TooMany
 from enoughchecks.webs import Web, ends, is_way
-from tests.support import C, D, H, S, T, WRONG_NUMBERS, WRONG_TUPLES, agree, all_worlds, double_row, many_ways_web
-from tests.support import nested, plain_checks, plain_classes, plain_ways, row_web, some_checks, some_webs, ways_of
+from tests.support import C, D, H, NO_CHECKS, S, T, WRONG_NUMBERS, WRONG_TUPLES, WRONG_WAYS, agree, all_worlds
+from tests.support import double_row, many_ways_web, nested, plain_checks, plain_classes, plain_ways, row_web
+from tests.support import some_checks, some_webs, ways_of
 
-NO_CHECKS = (None, [C[0], C[0]], C[0], {}, "ab", [None], [((1,), (0, 4))], 0, True, [[(0, 4), (1,)]])
 NO_EXCHANGES = (
     *WRONG_TUPLES, (0, 0), (0, 0, False, False), [0, 0, False], (0, 0, 0), (0, 0, None), (0, 0, ()), (0, 0, "False"),
     (False, 0, False), (0, False, False), (2, 0, False), (-1, 0, False), (10 ** 59, 0, False), (0, -1, False),
@@ -86,7 +86,7 @@ class ExchangedTest(unittest.TestCase):
         for checks in NO_CHECKS:
             with self.assertRaises(NoChecks):
                 exchanged(T, checks, None, None)
-        for way in (*WRONG_TUPLES, (0, 1), (5,), [0, 2], (True, 3)):
+        for way in WRONG_WAYS:
             with self.assertRaises(NoWay):
                 exchanged(T, C, way, None)
 
@@ -195,7 +195,7 @@ class ChainTest(unittest.TestCase):
             for checks in NO_CHECKS:
                 with self.assertRaises(NoChecks):
                     call(T, checks, None, None)
-            for way in (*WRONG_TUPLES, (0, 1), (5,), [0, 2], (True, 3)):
+            for way in WRONG_WAYS:
                 with self.assertRaises(NoWay):
                     call(T, C, way, (0, 2))
                 with self.assertRaises(NoWay):

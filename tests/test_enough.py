@@ -12,13 +12,12 @@ from enoughchecks.enough import tidied, trees
 from enoughchecks.errors import NoChecks, NotEnough
 from enoughchecks.webs import Web, ends
 from enoughchecks.worlds import is_world, parted_pairs
-from tests.support import C, D, H, S, T, WRONG_TUPLES, agree, all_worlds, double_row, held_together, nested
+from tests.support import C, D, H, NO_CHECKS, S, T, WRONG_TUPLES, agree, all_worlds, double_row, held_together, nested
 from tests.support import plain_checks, plain_clusters, plain_ways, plainly_enough, row_web, some_checks, some_webs
 from tests.support import some_world, wide_web
 
 ONE_WAY_AT_MOST = (Web(1, ()), Web(60, ()), row_web(60), Web(3, ((0, 1), (0, 2))))
 SQUARE_OF_S = ((0, 2), (1, 2))
-NO_CHECKS = (None, [C[0], C[0]], C[0], {}, "ab", [None], [((1,), (0, 4))], 0, True, [[(0, 4), (1,)]])
 
 
 def all_subsets(things):

@@ -8,12 +8,15 @@ from enoughchecks.clusters import clusters, holes
 from enoughchecks.counting import least_many
 from enoughchecks.enough import is_small_world, trees
 from enoughchecks.leasts import least_list, least_number
+from enoughchecks.papers import is_paper, surely
+from enoughchecks.stocks import cheapest
 from enoughchecks.ways import ways
 from enoughchecks.webs import Web, between, passed
 
 d = Web(4, ((0, 1), (0, 2), (1, 3), (2, 3)))
 t = Web(4, ((0, 1), (0, 2), (1, 3), (2, 3), (1, 2)))
 h = Web(2, ((0, 1), (0, 1), (0, 1)))
+s = Web(3, ((0, 1), (0, 1), (1, 2)))
 c = [((0, 4), (1,)), ((2,), (4, 3))]
 
 
@@ -42,6 +45,14 @@ class Examples(unittest.TestCase):
         self.assertEqual(least_list(h), (((0,), (1,)), ((0,), (2,))))
         self.assertEqual(least_many(h), 3)
         self.assertEqual(least_number(cube(3)), 6)
+
+    def test_e06(self):
+        self.assertEqual(cheapest(h, [((0,), (1,)), ((0,), (2,)), ((1,), (2,))], (5, 1, 2)), (3, (1, 2)))
+
+    def test_e07(self):
+        lines = (((0, 2), (1, 2), ("check", 0)), ((0,), (1,), ("strike", 0)))
+        self.assertIs(is_paper(s, [((0, 2), (1, 2))], "one", (2,), (0,), (1,), lines), True)
+        self.assertIs(surely(s, [((0, 2), (1, 2))], "onto", (2,), (0,), (1,)), False)
 
 
 if __name__ == "__main__":

@@ -12,6 +12,10 @@ from enoughchecks.counting import least_at, least_index, least_many
 from enoughchecks.enough import enough, further, is_further, is_small_world, is_trees, lacking, small_world, spare
 from enoughchecks.enough import tidied, trees
 from enoughchecks.leasts import is_least, least_list, least_number
+from enoughchecks.papers import enough_so, is_paper, paper, surely
+from enoughchecks.partings import is_parting, parting
+from enoughchecks.roads import is_road, road
+from enoughchecks.stocks import cheapest
 from enoughchecks.ways import way_at, way_number, ways, ways_many
 from enoughchecks.webs import Web, between, ends, is_way, passed, reached, reaching
 from enoughchecks.wholes import beyond, is_world_of_all, world_of_all
@@ -19,6 +23,25 @@ from enoughchecks.worlds import failed, is_parted_ways, is_world, led, parted_pa
 from tests.support import C, NO_NUMBERS_NO_TUPLES, ODD_TUPLES, T, double_row, nested, row_web
 
 ONE_EACH = ((1, 1, 1, 1), ((0,),) * 5)
+
+
+def told_calls():
+    """The calls of 8.1 and 8.2, which name the same errors for the same arguments."""
+    def calls_of(name, call):
+        return [
+            (f"{name}, checks", lambda thing: call(T, thing, "one", (), (0,), (0,)), errors.NoChecks),
+            (f"{name}, sort", lambda thing: call(T, C, thing, thing, (0,), (0,)), errors.NoSort),
+            (f"{name}, a told arrow", lambda thing: call(T, C, "onto", (0, thing), (0,), (0,)), errors.NoTold),
+            (f"{name}, one", lambda thing: call(T, C, "one", (), thing, thing), errors.NoWay),
+            (f"{name}, other", lambda thing: call(T, C, "onto", (0,), (0,), thing), errors.NoWay),
+        ]
+    return [
+        *calls_of("surely", surely), *calls_of("paper", paper), *calls_of("parting", parting),
+        *calls_of("is_paper", lambda *things: is_paper(*things, things)),
+        *calls_of("is_parting", lambda *things: is_parting(*things, things)),
+        *calls_of("enough_so", lambda web, checks, sort, told, one, other: enough_so(web, checks, sort, told))[:3],
+    ]
+
 
 # Each call that names an error for an argument, and the error that is due for what is no number, no tuple.
 CALLS = [
@@ -111,6 +134,13 @@ CALLS = [
     ("least_at", lambda thing: least_at(T, thing), errors.NoNumber),
     ("least_index", lambda thing: least_index(T, thing), errors.NoList),
     ("least_index, a check", lambda thing: least_index(T, (C[0], thing)), errors.NoList),
+    ("cheapest, stock, checks", lambda thing: cheapest(T, thing, ()), errors.NoChecks),
+    ("cheapest, prices", lambda thing: cheapest(T, C, thing), errors.NoPrices),
+    ("road, one", lambda thing: road(T, thing, tuple(C)), errors.NoList),
+    ("road, other", lambda thing: road(T, tuple(C), thing), errors.NoList),
+    ("is_road, one", lambda thing: is_road(T, thing, tuple(C), thing), errors.NoList),
+    ("is_road, other", lambda thing: is_road(T, tuple(C), thing, thing), errors.NoList),
+    *told_calls(),
 ]
 # Each function that judges any object, where none of those below is what it looks for.
 JUDGES = [
@@ -133,6 +163,14 @@ JUDGES = [
     lambda thing: is_world_of_all(T, C, (thing, thing)),
     lambda thing: is_least(T, thing),
     lambda thing: is_least(T, (C[0], thing)),
+    lambda thing: is_road(T, tuple(C), tuple(C), (thing,)),
+    lambda thing: is_road(T, tuple(C), tuple(C), ((thing, thing),)),
+    lambda thing: is_paper(T, C, "one", (), (0,), (0,), thing),
+    lambda thing: is_paper(T, C, "one", (), (0,), (0,), (thing,)),
+    lambda thing: is_paper(T, C, "one", (), (0,), (0,), (((0,), (0,), thing),)),
+    lambda thing: is_paper(T, C, "one", (), (0,), (0,), (((0,), (0,), (thing, 0)),)),
+    lambda thing: is_parting(T, [], "onto", (), (0, 2), (1, 3), thing),
+    lambda thing: is_parting(T, [], "onto", (), (0, 2), (1, 3), (thing, thing)),
 ]
 DEEP = [nested(list, 40), nested(tuple, 40), nested(dict, 40), [nested(tuple, 39)] * 200, (nested(list, 38), [T] * 50)]
 
@@ -175,7 +213,9 @@ class AnyObject(unittest.TestCase):
         for told in (is_way(T, (0, 2)), is_check(T, C[0]), is_world(T, ONE_EACH), is_further(T, C[:1], C[1:]),
                      is_trees(T, C, trees(T, C)), is_small_world(T, [], small_world(T, [])), is_least(T, tuple(C)),
                      is_chain(T, C, (0, 2), (1, 3), chain(T, C, (0, 2), (1, 3))),
-                     is_world_of_all(T, C, world_of_all(T, C))):
+                     is_world_of_all(T, C, world_of_all(T, C)), is_road(T, tuple(C), tuple(C), ()),
+                     is_paper(T, C, "one", (), (0, 2), (1, 3), paper(T, C, "one", (), (0, 2), (1, 3))),
+                     is_parting(T, [], "one", (), (0, 2), (1, 3), parting(T, [], "one", (), (0, 2), (1, 3)))):
             self.assertIs(told, True)
 
     def test_wrong_things_are_not_changed(self):

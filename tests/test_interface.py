@@ -33,6 +33,14 @@ FUNCTIONS = {
                "beyond": ["web", "checks", "more"]},
     "leasts": {"least_number": ["web"], "least_pairs": ["web"], "is_least": ["web", "thing"], "least_list": ["web"]},
     "counting": {"least_many": ["web"], "least_index": ["web", "thing"], "least_at": ["web", "number"]},
+    "stocks": {"cheapest": ["web", "stock", "prices"]},
+    "roads": {"road": ["web", "one", "other"], "is_road": ["web", "one", "other", "thing"]},
+    "papers": {"surely": ["web", "checks", "sort", "told", "one", "other"],
+               "is_paper": ["web", "checks", "sort", "told", "one", "other", "thing"],
+               "enough_so": ["web", "checks", "sort", "told"],
+               "paper": ["web", "checks", "sort", "told", "one", "other"]},
+    "partings": {"parting": ["web", "checks", "sort", "told", "one", "other"],
+                 "is_parting": ["web", "checks", "sort", "told", "one", "other", "thing"]},
 }
 # Of each class: its methods, listed ones and those that its arguments and its equality ask for.
 CLASSES = {

@@ -9,8 +9,8 @@ from enoughchecks.changes import beside, cube, floor, mirrored
 from enoughchecks.enough import enough, further, lacking, spare, tidied
 from enoughchecks.leasts import is_least, least_list, least_number, least_pairs
 from enoughchecks.webs import Web
-from tests.support import C, D, H, ODD_TUPLES, S, T, WRONG_TUPLES, double_row, plain_checks, plain_clusters
-from tests.support import plain_ways, plainly_enough, row_web, some_webs, wide_web
+from tests.support import C, D, H, ODD_TUPLES, S, T, WRONG_TUPLES, double_row, plain_checks, plain_clusters, plain_ways
+from tests.support import plainly_enough, row_web, some_webs, wide_web
 
 ONE_WAY_AT_MOST = (Web(1, ()), Web(60, ()), row_web(60), Web(3, ((0, 1), (0, 2))))
 EVERY_OF_H = [((0,), (1,)), ((0,), (2,)), ((1,), (2,))]

@@ -7,8 +7,8 @@ from enoughchecks.changes import cube, floor, with_arrow
 from enoughchecks.errors import NoNumber, NoPlace, NoWay, TooMany
 from enoughchecks.ways import every_way, way_at, way_number, ways, ways_in_all, ways_many
 from enoughchecks.webs import Web, ends, is_way
-from tests.support import D, H, S, T, WRONG_NUMBERS, WRONG_TUPLES, double_row, plain_ways, row_web, some_webs
-from tests.support import ways_of, wide_web
+from tests.support import D, H, S, T, WRONG_NUMBERS, WRONG_TUPLES, double_row, plain_ways, row_web, some_webs, ways_of
+from tests.support import wide_web
 
 # 13 places behind the first one are passed by 7 or 6 arrows each, so that these are ways from 0 to 59.
 WIDE_MANY = 7 ** 46 * 6 ** 13

@@ -5,8 +5,8 @@ import unittest
 from enoughchecks.changes import beside
 from enoughchecks.errors import BadWeb, NoPlace, NoWay
 from enoughchecks.webs import Web, between, ends, is_way, passed, reached, reaching
-from tests.support import D, H, NO_NUMBERS_NO_TUPLES, ODD_TUPLES, S, T, WRONG_NUMBERS, WRONG_TUPLES
-from tests.support import nested, plain_ways, row_web, some_webs, wide_web
+from tests.support import D, H, NO_NUMBERS_NO_TUPLES, ODD_TUPLES, S, T, WRONG_NUMBERS, WRONG_TUPLES, nested, plain_ways
+from tests.support import row_web, some_webs, wide_web
 
 
 class Like:

@@ -10,11 +10,10 @@ from enoughchecks.errors import NoChecks, TooMany
 from enoughchecks.webs import Web
 from enoughchecks.wholes import beyond, is_world_of_all, world_of_all
 from enoughchecks.worlds import is_world
-from tests.support import C, D, H, ODD_TUPLES, S, T, WRONG_TUPLES, agree, all_worlds, changed_world, double_row
-from tests.support import home_of_ways, many_ways_web, plain_checks, row_web, shuffled_world, some_checks, some_webs
-from tests.support import some_world
+from tests.support import C, D, H, NO_CHECKS, ODD_TUPLES, S, T, WRONG_TUPLES, agree, all_worlds, changed_world
+from tests.support import double_row, home_of_ways, many_ways_web, plain_checks, row_web, shuffled_world, some_checks
+from tests.support import some_webs, some_world
 
-NO_CHECKS = (None, [C[0], C[0]], C[0], {}, "ab", [None], [((1,), (0, 4))], 0, True, [[(0, 4), (1,)]])
 
 
 def web_of_ways(many):
