@@ -27,7 +27,8 @@ def _world_of_lots(web, homes, standing):
     """
     tables = []
     for arrow, (begin, end) in enumerate(web.arrows):
-        at = [standing[begin].index(homes[(arrow, *way)]) for way in standing[end]]
+        longer = [(arrow, *way) for way in standing[end]]
+        at = [standing[begin].index(homes[way]) for way in longer]
         table = []
         for lot in range(1 << len(standing[begin])):
             table.append(sum([(lot >> bit & 1) << number for number, bit in enumerate(at)]))

@@ -29,7 +29,8 @@ def world_of_ways(web, roots, homes):
     at = [{thing: number for number, thing in enumerate(row)} for row in things]
     tables = []
     for arrow, (begin, end) in enumerate(web.arrows):
-        tables.append(tuple([at[end][homes[(*way, arrow)]] for way in things[begin]]))
+        longer = [(*way, arrow) for way in things[begin]]
+        tables.append(tuple([at[end][homes[way]] for way in longer]))
     return (tuple([len(row) for row in things]), tuple(tables))
 
 

@@ -119,6 +119,13 @@ class Shape(unittest.TestCase):
                     self.assertNotIsInstance(node.value, (float, complex), name)
                     self.assertNotIn("%", node.value if isinstance(node.value, str) else "", name)
 
+    def test_l7_no_star_in_an_index(self):
+        for name, tree in parsed():
+            for node in ast.walk(tree):
+                if isinstance(node, ast.Subscript):
+                    for part in ast.walk(node.slice):
+                        self.assertNotIsInstance(part, ast.Starred, f"{name}: {node.lineno}")
+
     def test_l8_l22_only_the_builtins_that_are_named(self):
         barred = set(dir(builtins)) - BUILTINS
         for name, tree in parsed():
