@@ -1,14 +1,17 @@
-"""What several modules need: integers, lots, places, the rows of arrows of a web, and what links hold together."""
+"""What several modules need: integers, lots, places and arrows of a web, and what links hold together."""
 
-from enoughchecks.errors import NoPlace
+from enoughchecks.errors import NoArrow, NoPlace
+
+
+def is_number(thing):
+    """Tell whether a thing is an integer."""
+    # For Python a flag is an int, for this package it is no integer.
+    return isinstance(thing, int) and not isinstance(thing, bool)
 
 
 def is_whole(thing):
     """Tell whether a thing is an integer from 0 on."""
-    # For Python a flag is an int, for this package it is no integer.
-    if not isinstance(thing, int) or isinstance(thing, bool):
-        return False
-    return thing >= 0
+    return is_number(thing) and thing >= 0
 
 
 def whole_below(thing, limit):
@@ -29,6 +32,12 @@ def need_place(web, thing):
     """Raise NoPlace unless the thing is a place of the web."""
     if not whole_below(thing, web.places):
         raise NoPlace()
+
+
+def need_arrow(web, thing):
+    """Raise NoArrow unless the thing is an arrow of the web."""
+    if not whole_below(thing, len(web.arrows)):
+        raise NoArrow()
 
 
 def arrows_from(places, arrows):

@@ -1,6 +1,6 @@
 """Webs made out of other webs."""
 
-from enoughchecks.basics import need_place, whole_below
+from enoughchecks.basics import need_arrow, need_place, whole_below
 from enoughchecks.errors import NoArrow, NoNumber, NoOrder
 from enoughchecks.webs import Web, reached, web_of_any_size
 
@@ -41,8 +41,7 @@ def with_arrow(web, u, v):
 
 def without_arrow(web, arrow):
     """Make the web without an arrow; those above it are one less."""
-    if not whole_below(arrow, len(web.arrows)):
-        raise NoArrow()
+    need_arrow(web, arrow)
     return web_of_any_size(web.places, web.arrows[:arrow] + web.arrows[arrow + 1:])
 
 

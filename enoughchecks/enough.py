@@ -141,10 +141,23 @@ def spare(web, checks):
     return tuple([check for check in range(len(checks)) if check not in needed])
 
 
+def joining_checks(web, checks):
+    """Tell the lot of the checks each of which holds together clusters that those ahead of it leave apart."""
+    told = wide_clusters(web)
+    links = check_links(web, checks, told)
+    return tuple(sorted([check for pair in told for check in _tree(told[pair], links[pair])]))
+
+
 def tidied(web, checks):
     """Tell the lot of the checks that stay when, from the last to the first, each spare one is left out."""
-    found = trees(web, checks)
-    if found is None:
+    if not enough(web, checks):
         raise NotEnough()
-    # To leave out from the last one on keeps just those that join what all ahead of them leave apart: the trees.
-    return tuple(sorted([check for lot in found.values() for check in lot]))
+    # To leave out from the last one on keeps just those that join what all ahead of them leave apart.
+    return joining_checks(web, checks)
+
+
+def further_out_of(web, checks, liked):
+    """List as few further checks as any behind which the checks are enough, as many of them liked ones as can be."""
+    together = [*checks, *liked]
+    chosen = [together[check] for check in joining_checks(web, together) if check >= len(checks)]
+    return chosen + further(web, [*checks, *chosen])

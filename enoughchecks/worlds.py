@@ -18,7 +18,7 @@ def is_world(web, thing):
         return False
     if not isinstance(tables, tuple) or len(tables) != len(web.arrows):
         return False
-    return all([_is_table(sizes, pair, table) for pair, table in zip(web.arrows, tables)])
+    return all([is_table(sizes, pair, table) for pair, table in zip(web.arrows, tables)])
 
 
 def _are_sizes(web, thing):
@@ -28,7 +28,7 @@ def _are_sizes(web, thing):
     return all([is_whole(item) for item in thing])
 
 
-def _is_table(sizes, pair, thing):
+def is_table(sizes, pair, thing):
     """Tell whether a thing is a tuple with, for each thing of the begin of a pair, one of the end."""
     begin, end = pair
     if not isinstance(thing, tuple) or len(thing) != sizes[begin]:
@@ -84,11 +84,16 @@ def passes_all(world, checks):
     return all([agree(world, one, other) for one, other in checks])
 
 
+def not_passed(world, checks):
+    """Tell the lot of the checks that the world does not pass."""
+    return tuple([index for index, (one, other) in enumerate(checks) if not agree(world, one, other)])
+
+
 def failed(web, world, checks):
     """Tell the lot of the checks whose ways do not agree in the world."""
     need_world(web, world)
     need_checks(web, checks)
-    return tuple([index for index, (one, other) in enumerate(checks) if not agree(world, one, other)])
+    return not_passed(world, checks)
 
 
 def _one_of(things):

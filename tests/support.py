@@ -4,6 +4,7 @@ import itertools
 import random
 
 from enoughchecks.errors import NoChecks, NoPair, NoSort, NoTold, NoWay
+from enoughchecks.ledgers import Ledger
 from enoughchecks.webs import Web
 
 D = Web(4, ((0, 1), (0, 2), (1, 3), (2, 3)))
@@ -31,7 +32,7 @@ NO_NUMBERS_NO_TUPLES = [
     [], [0], [0, 1], [(0, 1)], [[]], {}, {0: 0}, {0: (0, 1)}, {(0, 1): [None]}, range(0), range(3), slice(0, 1),
     Ellipsis, NotImplemented, int, tuple, Web, len, nested, gone(), iter([0]), reversed([0]), zip([0]), map(len, []),
     enumerate([0]), ValueError("x"), object(), {}.keys(), {0: 1}.items(), [].append, random, nested(list, 40),
-    nested(dict, 40), Web(1, ()), Web(2, ((0, 1),)), NoWay(), [0] * 9999, {key: key for key in range(4999)},
+    nested(dict, 40), Web(1, ()), Web(2, ((0, 1),)), NoWay(), Ledger(Web(1, ())), [0] * 9999, {key: key for key in range(4999)},
     "0" * 20000,
 ]
 

@@ -8,8 +8,12 @@ from enoughchecks.clusters import clusters, holes
 from enoughchecks.counting import least_many
 from enoughchecks.enough import is_small_world, trees
 from enoughchecks.leasts import least_list, least_number
+from enoughchecks.ledgers import Ledger
 from enoughchecks.papers import is_paper, surely
+from enoughchecks.roots import root_checks, root_tree
 from enoughchecks.stocks import cheapest
+from enoughchecks.sums import full_rank
+from enoughchecks.suspects import is_bar, never_seen, suspects, unseen
 from enoughchecks.ways import ways
 from enoughchecks.webs import Web, between, passed
 
@@ -53,6 +57,28 @@ class Examples(unittest.TestCase):
         lines = (((0, 2), (1, 2), ("check", 0)), ((0,), (1,), ("strike", 0)))
         self.assertIs(is_paper(s, [((0, 2), (1, 2))], "one", (2,), (0,), (1,), lines), True)
         self.assertIs(surely(s, [((0, 2), (1, 2))], "onto", (2,), (0,), (1,)), False)
+
+    def test_e08(self):
+        self.assertEqual(root_tree(t, 0), (0, 1, 2))
+        self.assertEqual(root_checks(t, 0), [((0, 2), (1, 3)), ((0, 4), (1,))])
+        self.assertEqual(full_rank(t), 2)
+
+    def test_e09(self):
+        self.assertEqual(suspects(t, c, (0,)), (0, 1, 4))
+        self.assertEqual(suspects(t, c, (0, 1)), (4,))
+        self.assertIs(is_bar(t, c, (0,), 2, ("beside", 0)), True)
+
+    def test_e10(self):
+        self.assertEqual(unseen(d, []), (0, 1, 2, 3))
+        self.assertEqual(never_seen(s), (2,))
+
+    def test_e12(self):
+        ledger = Ledger(s)
+        ledger.passed(((0,), (1,)))
+        self.assertEqual(ledger.arrow(0, 2), 3)
+        self.assertEqual(ledger.renewed(0), (0,))
+        self.assertEqual(ledger.checks(), ((((0,), (1,)), "void"),))
+        self.assertEqual(len(ledger.due()), 2)
 
 
 if __name__ == "__main__":

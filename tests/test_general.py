@@ -12,10 +12,14 @@ from enoughchecks.counting import least_at, least_index, least_many
 from enoughchecks.enough import enough, further, is_further, is_small_world, is_trees, lacking, small_world, spare
 from enoughchecks.enough import tidied, trees
 from enoughchecks.leasts import is_least, least_list, least_number
+from enoughchecks.ledgers import Ledger
 from enoughchecks.papers import enough_so, is_paper, paper, surely
 from enoughchecks.partings import is_parting, parting
 from enoughchecks.roads import is_road, road
+from enoughchecks.roots import root_checks, root_tree
 from enoughchecks.stocks import cheapest
+from enoughchecks.sums import full_rank, is_numbers, numbers, rank
+from enoughchecks.suspects import bar, is_bar, is_spoiled, never_seen, next_check, spoiled, suspects, unseen
 from enoughchecks.ways import way_at, way_number, ways, ways_many
 from enoughchecks.webs import Web, between, ends, is_way, passed, reached, reaching
 from enoughchecks.wholes import beyond, is_world_of_all, world_of_all
@@ -141,6 +145,40 @@ CALLS = [
     ("is_road, one", lambda thing: is_road(T, thing, tuple(C), thing), errors.NoList),
     ("is_road, other", lambda thing: is_road(T, tuple(C), thing, thing), errors.NoList),
     *told_calls(),
+    ("root_tree", lambda thing: root_tree(T, thing), errors.NoPlace),
+    ("root_checks", lambda thing: root_checks(T, thing), errors.NoPlace),
+    ("rank, checks", lambda thing: rank(T, thing), errors.NoChecks),
+    ("numbers, checks", lambda thing: numbers(T, thing), errors.NoChecks),
+    ("is_numbers, checks", lambda thing: is_numbers(T, thing, thing), errors.NoChecks),
+    ("suspects, checks", lambda thing: suspects(T, thing, ()), errors.NoChecks),
+    ("suspects, a failed check", lambda thing: suspects(T, C, (0, thing)), errors.NoFailed),
+    ("bar, checks", lambda thing: bar(T, thing, (), 0), errors.NoChecks),
+    ("bar, a failed check", lambda thing: bar(T, C, (0, thing), 0), errors.NoFailed),
+    ("bar, arrow", lambda thing: bar(T, C, (0,), thing), errors.NoArrow),
+    ("is_bar, checks", lambda thing: is_bar(T, thing, (), 0, thing), errors.NoChecks),
+    ("is_bar, a failed check", lambda thing: is_bar(T, C, (0, thing), 0, thing), errors.NoFailed),
+    ("is_bar, arrow", lambda thing: is_bar(T, C, (0,), thing, thing), errors.NoArrow),
+    ("spoiled, checks", lambda thing: spoiled(T, thing, (), 0), errors.NoChecks),
+    ("spoiled, a failed check", lambda thing: spoiled(T, C, (0, thing), 0), errors.NoFailed),
+    ("spoiled, arrow", lambda thing: spoiled(T, C, (0,), thing), errors.NoArrow),
+    ("is_spoiled, checks", lambda thing: is_spoiled(T, thing, (), 0, thing), errors.NoChecks),
+    ("is_spoiled, a failed check", lambda thing: is_spoiled(T, C, (0, thing), 0, thing), errors.NoFailed),
+    ("is_spoiled, arrow", lambda thing: is_spoiled(T, C, (0,), thing, thing), errors.NoArrow),
+    ("unseen, checks", lambda thing: unseen(T, thing), errors.NoChecks),
+    ("next_check, checks", lambda thing: next_check(T, thing, (), []), errors.NoChecks),
+    ("next_check, a failed check", lambda thing: next_check(T, C, (0, thing), []), errors.NoFailed),
+    ("next_check, stock, checks", lambda thing: next_check(T, C, (0,), thing), errors.NoChecks),
+    ("next_check, a check of the stock", lambda thing: next_check(T, C, (0,), [thing]), errors.NoChecks),
+    ("Ledger, arrow, u", lambda thing: Ledger(T).arrow(thing, 3), errors.NoPlace),
+    ("Ledger, arrow, v", lambda thing: Ledger(T).arrow(0, thing), errors.NoPlace),
+    ("Ledger, strike", lambda thing: Ledger(T).strike(thing), errors.NoArrow),
+    ("Ledger, renewed", lambda thing: Ledger(T).renewed(thing), errors.NoArrow),
+    ("Ledger, passed", lambda thing: Ledger(T).passed(thing), errors.NoCheck),
+    ("Ledger, passed, a way", lambda thing: Ledger(T).passed((thing, (1, 3))), errors.NoCheck),
+    ("Ledger, failed", lambda thing: Ledger(T).failed(thing), errors.NoCheck),
+    ("Ledger, failed, a way", lambda thing: Ledger(T).failed(((0, 2), thing)), errors.NoCheck),
+    ("Ledger, known, one", lambda thing: Ledger(T).known(thing, (1, 3)), errors.NoWay),
+    ("Ledger, known, other", lambda thing: Ledger(T).known((0, 2), thing), errors.NoWay),
 ]
 # Each function that judges any object, where none of those below is what it looks for.
 JUDGES = [
@@ -171,6 +209,14 @@ JUDGES = [
     lambda thing: is_paper(T, C, "one", (), (0,), (0,), (((0,), (0,), (thing, 0)),)),
     lambda thing: is_parting(T, [], "onto", (), (0, 2), (1, 3), thing),
     lambda thing: is_parting(T, [], "onto", (), (0, 2), (1, 3), (thing, thing)),
+    lambda thing: is_numbers(T, C[:1], thing),
+    lambda thing: is_bar(T, C, (0,), 2, thing),
+    lambda thing: is_bar(T, C, (0,), 2, (thing, 0)),
+    lambda thing: is_bar(T, C, (1,), 2, ("beside", thing)),
+    lambda thing: is_bar(T, [((0, 2), (1, 3)), *C], (0,), 0, ("within", 0, (thing,))),
+    lambda thing: is_spoiled(T, C, (0,), 0, thing),
+    lambda thing: is_spoiled(T, C, (0,), 0, (ONE_EACH, thing)),
+    lambda thing: is_spoiled(T, C, (0,), 0, (thing, (0,))),
 ]
 DEEP = [nested(list, 40), nested(tuple, 40), nested(dict, 40), [nested(tuple, 39)] * 200, (nested(list, 38), [T] * 50)]
 
@@ -215,7 +261,9 @@ class AnyObject(unittest.TestCase):
                      is_chain(T, C, (0, 2), (1, 3), chain(T, C, (0, 2), (1, 3))),
                      is_world_of_all(T, C, world_of_all(T, C)), is_road(T, tuple(C), tuple(C), ()),
                      is_paper(T, C, "one", (), (0, 2), (1, 3), paper(T, C, "one", (), (0, 2), (1, 3))),
-                     is_parting(T, [], "one", (), (0, 2), (1, 3), parting(T, [], "one", (), (0, 2), (1, 3)))):
+                     is_parting(T, [], "one", (), (0, 2), (1, 3), parting(T, [], "one", (), (0, 2), (1, 3))),
+                     is_numbers(T, C[:1], numbers(T, C[:1])), is_bar(T, C, (0,), 2, bar(T, C, (0,), 2)),
+                     is_spoiled(T, C, (0,), 0, spoiled(T, C, (0,), 0))):
             self.assertIs(told, True)
 
     def test_wrong_things_are_not_changed(self):
@@ -284,6 +332,27 @@ class NoRecursion(unittest.TestCase):
         self.assertEqual(chain(twice, [last], *found), ((0, 3838, False),))
         self.assertEqual(classes(twice, [last], 0, 3839), [found])
         self.assertEqual(beyond(twice, [], [found]), (0,))
+        self.assertEqual(suspects(twice, [found, last], (0,)), ())
+        self.assertEqual(suspects(twice, [found, last], (0, 1)), (way[-1], 3839))
+        self.assertIs(is_spoiled(twice, [found], (0,), 3839, spoiled(twice, [found], (0,), 3839)), True)
+        self.assertEqual(unseen(twice, [found]), tuple(arrow for arrow in range(3839) if arrow != way[-1]))
+
+    def test_roots_and_ledgers_of_thousands_of_arrows(self):
+        web = long_row(6)
+        self.assertEqual(root_tree(web, 0), tuple(range(3839)))
+        self.assertEqual(root_checks(web, 0), [])
+        self.assertEqual(root_checks(with_arrow(web, 0, 3839), 0), [(way_at(web, 0, 3839, 0), (3839,))])
+        with self.assertRaises(errors.NoRoot):
+            root_tree(web, 1)
+        ledger = Ledger(web)
+        last = way_at(web, 0, 3839, 0)[-1]
+        self.assertEqual(ledger.arrow(3838, 3839), 3839)
+        ledger.failed(((last,), (3839,)))
+        self.assertEqual(ledger.blamed(), (last, 3839))
+        self.assertEqual(ledger.renewed(last), (0,))
+        self.assertEqual(ledger.due(), [((last,), (3839,))])
+        ledger.strike(0)
+        self.assertEqual(ledger.checks(), ((((last - 1,), (3838,)), "void"),))
 
     def test_enough_of_hundreds_of_arrows(self):
         web = double_row(59)
@@ -303,6 +372,12 @@ class NoRecursion(unittest.TestCase):
         world = small_world(web, checks[1:])
         self.assertIs(is_small_world(web, checks[1:], world), True)
         self.assertEqual(parted_pairs(web, world), [(0, 1)])
+        self.assertIs(is_numbers(web, checks, (0,) * 474 + (1,)), False)
+        self.assertIs(is_numbers(web, checks[:-1], (0,) * 474 + (1,)), False)
+        self.assertEqual(len(never_seen(web)), 3)
+        ledger = Ledger(web)
+        ledger.passed(checks[0])
+        self.assertEqual((ledger.lacking(), len(ledger.due())), (235, 235))
 
 
 if __name__ == "__main__":

@@ -41,10 +41,23 @@ FUNCTIONS = {
                "paper": ["web", "checks", "sort", "told", "one", "other"]},
     "partings": {"parting": ["web", "checks", "sort", "told", "one", "other"],
                  "is_parting": ["web", "checks", "sort", "told", "one", "other", "thing"]},
+    "roots": {"root_tree": ["web", "root"], "root_checks": ["web", "root"]},
+    "sums": {"rank": ["web", "checks"], "full_rank": ["web"], "numbers": ["web", "checks"],
+             "is_numbers": ["web", "checks", "thing"]},
+    "suspects": {"suspects": ["web", "checks", "failed"], "unseen": ["web", "checks"], "never_seen": ["web"],
+                 "bar": ["web", "checks", "failed", "arrow"], "spoiled": ["web", "checks", "failed", "arrow"],
+                 "next_check": ["web", "checks", "failed", "stock"],
+                 "is_bar": ["web", "checks", "failed", "arrow", "thing"],
+                 "is_spoiled": ["web", "checks", "failed", "arrow", "thing"]},
 }
 # Of each class: its methods, listed ones and those that its arguments and its equality ask for.
 CLASSES = {
     "webs": {"Web": {"__init__": ["self", "places", "arrows"], "__eq__": ["self", "other"]}},
+    "ledgers": {"Ledger": {
+        "__init__": ["self", "web"], "arrow": ["self", "u", "v"], "strike": ["self", "arrow"],
+        "renewed": ["self", "arrow"], "passed": ["self", "check"], "failed": ["self", "check"], "web": ["self"],
+        "checks": ["self"], "sound": ["self"], "lacking": ["self"], "known": ["self", "one", "other"], "due": ["self"],
+        "blamed": ["self"], "back": ["self"], "deeds": ["self"], "copy": ["self"], "trying": ["self", "action"]}},
     "errors": {
         "CheckError": {},
         "BadWeb": {"__init__": ["self", "part", "at"]}, "TooMany": {"__init__": ["self", "most"]},
