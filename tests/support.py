@@ -3,6 +3,7 @@
 import itertools
 import random
 
+from enoughchecks.desk import Desk
 from enoughchecks.errors import NoChecks, NoPair, NoSort, NoTold, NoWay
 from enoughchecks.ledgers import Ledger
 from enoughchecks.webs import Web
@@ -32,8 +33,8 @@ NO_NUMBERS_NO_TUPLES = [
     [], [0], [0, 1], [(0, 1)], [[]], {}, {0: 0}, {0: (0, 1)}, {(0, 1): [None]}, range(0), range(3), slice(0, 1),
     Ellipsis, NotImplemented, int, tuple, Web, len, nested, gone(), iter([0]), reversed([0]), zip([0]), map(len, []),
     enumerate([0]), ValueError("x"), object(), {}.keys(), {0: 1}.items(), [].append, random, nested(list, 40),
-    nested(dict, 40), Web(1, ()), Web(2, ((0, 1),)), NoWay(), Ledger(Web(1, ())), [0] * 9999, {key: key for key in range(4999)},
-    "0" * 20000,
+    nested(dict, 40), Web(1, ()), Web(2, ((0, 1),)), NoWay(), Ledger(Web(1, ())), Desk(), [0] * 9999,
+    {key: key for key in range(4999)}, "0" * 20000,
 ]
 
 # Tuples that hold at most one integer, so that they never are a pair, a way or an order of the webs above.

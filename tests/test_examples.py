@@ -1,4 +1,4 @@
-"""The examples of the document, as far as they have landed."""
+"""The examples of the document."""
 
 import unittest
 
@@ -9,11 +9,13 @@ from enoughchecks.counting import least_many
 from enoughchecks.enough import is_small_world, trees
 from enoughchecks.leasts import least_list, least_number
 from enoughchecks.ledgers import Ledger
+from enoughchecks.logs import log
 from enoughchecks.papers import is_paper, surely
 from enoughchecks.roots import root_checks, root_tree
 from enoughchecks.stocks import cheapest
 from enoughchecks.sums import full_rank
 from enoughchecks.suspects import is_bar, never_seen, suspects, unseen
+from enoughchecks.texts import checks_text, web_text
 from enoughchecks.ways import ways
 from enoughchecks.webs import Web, between, passed
 
@@ -72,6 +74,10 @@ class Examples(unittest.TestCase):
         self.assertEqual(unseen(d, []), (0, 1, 2, 3))
         self.assertEqual(never_seen(s), (2,))
 
+    def test_e11(self):
+        self.assertEqual(web_text(s), "places 3\n0 1\n0 1\n1 2\n")
+        self.assertEqual(checks_text(s, [((0, 2), (1, 2))]), "0 2 = 1 2\n")
+
     def test_e12(self):
         ledger = Ledger(s)
         ledger.passed(((0,), (1,)))
@@ -79,6 +85,7 @@ class Examples(unittest.TestCase):
         self.assertEqual(ledger.renewed(0), (0,))
         self.assertEqual(ledger.checks(), ((((0,), (1,)), "void"),))
         self.assertEqual(len(ledger.due()), 2)
+        self.assertEqual(log(ledger), "passed 0 = 1\narrow 0 2\nrenewed 0\n")
 
 
 if __name__ == "__main__":

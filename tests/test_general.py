@@ -9,17 +9,22 @@ from enoughchecks.changes import beside, cube, floor, mirrored, numbered, with_a
 from enoughchecks.checking import checks_many, is_check
 from enoughchecks.clusters import cluster_of, cluster_sizes, clusters, groups, holes
 from enoughchecks.counting import least_at, least_index, least_many
+from enoughchecks.desk import Desk
 from enoughchecks.enough import enough, further, is_further, is_small_world, is_trees, lacking, small_world, spare
 from enoughchecks.enough import tidied, trees
+from enoughchecks.judges import wrong_judge
 from enoughchecks.leasts import is_least, least_list, least_number
 from enoughchecks.ledgers import Ledger
+from enoughchecks.logs import log, restored
 from enoughchecks.papers import enough_so, is_paper, paper, surely
 from enoughchecks.partings import is_parting, parting
+from enoughchecks.reading import read_checks, read_web
 from enoughchecks.roads import is_road, road
 from enoughchecks.roots import root_checks, root_tree
 from enoughchecks.stocks import cheapest
 from enoughchecks.sums import full_rank, is_numbers, numbers, rank
 from enoughchecks.suspects import bar, is_bar, is_spoiled, never_seen, next_check, spoiled, suspects, unseen
+from enoughchecks.texts import checks_text, web_text
 from enoughchecks.ways import way_at, way_number, ways, ways_many
 from enoughchecks.webs import Web, between, ends, is_way, passed, reached, reaching
 from enoughchecks.wholes import beyond, is_world_of_all, world_of_all
@@ -179,6 +184,13 @@ CALLS = [
     ("Ledger, failed, a way", lambda thing: Ledger(T).failed(((0, 2), thing)), errors.NoCheck),
     ("Ledger, known, one", lambda thing: Ledger(T).known(thing, (1, 3)), errors.NoWay),
     ("Ledger, known, other", lambda thing: Ledger(T).known((0, 2), thing), errors.NoWay),
+    ("wrong_judge, checks", lambda thing: wrong_judge(T, thing, None), errors.NoChecks),
+    ("wrong_judge, no answer", lambda thing: wrong_judge(T, [], lambda one, other: [thing]), errors.NoAnswer),
+    ("checks_text, checks", lambda thing: checks_text(T, thing), errors.NoChecks),
+    ("read_web", lambda thing: read_web(thing), errors.BadText),
+    ("read_checks", lambda thing: read_checks(T, thing if thing != "" else None), errors.BadText),
+    ("restored", lambda thing: restored(T, None if isinstance(thing, str) else thing), errors.BadText),
+    ("Desk, tell", lambda thing: Desk().tell(thing), errors.NoLine),
 ]
 # Each function that judges any object, where none of those below is what it looks for.
 JUDGES = [
@@ -353,6 +365,13 @@ class NoRecursion(unittest.TestCase):
         self.assertEqual(ledger.due(), [((last,), (3839,))])
         ledger.strike(0)
         self.assertEqual(ledger.checks(), ((((last - 1,), (3838,)), "void"),))
+        twin, lines = restored(web, log(ledger))
+        self.assertEqual((lines, twin.checks(), twin.web()), (4, ledger.checks(), ledger.web()))
+        self.assertEqual(len(web_text(web).split("\n")), 3841)
+        self.assertIsNone(wrong_judge(long_row(3), [], None))
+        way = way_at(web, 0, 3839, 0)
+        text = checks_text(with_arrow(web, 0, 3839), [(way, (3839,))])
+        self.assertEqual(read_checks(with_arrow(web, 0, 3839), text), [(way, (3839,))])
 
     def test_enough_of_hundreds_of_arrows(self):
         web = double_row(59)

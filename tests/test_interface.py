@@ -49,6 +49,10 @@ FUNCTIONS = {
                  "next_check": ["web", "checks", "failed", "stock"],
                  "is_bar": ["web", "checks", "failed", "arrow", "thing"],
                  "is_spoiled": ["web", "checks", "failed", "arrow", "thing"]},
+    "logs": {"log": ["ledger"], "restored": ["web", "text"]},
+    "judges": {"wrong_judge": ["web", "checks", "judge"]},
+    "texts": {"web_text": ["web"], "checks_text": ["web", "checks"]},
+    "reading": {"read_web": ["text"], "read_checks": ["web", "text"]},
 }
 # Of each class: its methods, listed ones and those that its arguments and its equality ask for.
 CLASSES = {
@@ -58,6 +62,7 @@ CLASSES = {
         "renewed": ["self", "arrow"], "passed": ["self", "check"], "failed": ["self", "check"], "web": ["self"],
         "checks": ["self"], "sound": ["self"], "lacking": ["self"], "known": ["self", "one", "other"], "due": ["self"],
         "blamed": ["self"], "back": ["self"], "deeds": ["self"], "copy": ["self"], "trying": ["self", "action"]}},
+    "desk": {"Desk": {"__init__": ["self"], "tell": ["self", "line"], "undoable": ["self"]}},
     "errors": {
         "CheckError": {},
         "BadWeb": {"__init__": ["self", "part", "at"]}, "TooMany": {"__init__": ["self", "most"]},

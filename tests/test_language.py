@@ -126,6 +126,42 @@ class Shape(unittest.TestCase):
                     for part in ast.walk(node.slice):
                         self.assertNotIsInstance(part, ast.Starred, f"{name}: {node.lineno}")
 
+    def test_l7_only_plain_things_behind_the_star_of_a_call(self):
+        for name, tree in parsed():
+            for node in ast.walk(tree):
+                for part in node.args if isinstance(node, ast.Call) else []:
+                    if isinstance(part, ast.Starred):
+                        self.assertIsInstance(part.value, ast.Name, f"{name}: {node.lineno}")
+                        word = getattr(node.func, "id", "")
+                        self.assertTrue(word in ("zip", "min", "max") or not hasattr(builtins, word), f"{name}: {word}")
+
+    def test_l6_l19_what_is_caught_and_what_stands_in_a_finally(self):
+        own = {node.name for name, tree in parsed() for node in tree.body if name == "errors.py"
+               and isinstance(node, ast.ClassDef)}
+        for name, tree in parsed():
+            for node in ast.walk(tree):
+                if isinstance(node, ast.ExceptHandler):
+                    self.assertIn(getattr(node.type, "id", None), own, f"{name}: {node.lineno}")
+                for part in node.finalbody if isinstance(node, ast.Try) else []:
+                    self.assertIsInstance(part, ast.Assign, f"{name}: {part.lineno}")
+                    self.assertFalse([one for one in ast.walk(part) if isinstance(one, (ast.Call, ast.Subscript))])
+
+    def test_l12_l20_a_lone_stroke_is_never_read_and_is_stands_beside_none(self):
+        for name, tree in parsed():
+            for node in ast.walk(tree):
+                if isinstance(node, ast.Name) and node.id == "_":
+                    self.assertIsInstance(node.ctx, ast.Store, f"{name}: {node.lineno}")
+                if isinstance(node, ast.Compare) and isinstance(node.ops[0], (ast.Is, ast.IsNot)):
+                    self.assertIsInstance(node.comparators[0], ast.Constant, f"{name}: {node.lineno}")
+
+    def test_l15_tables_at_module_level_hold_no_lists_and_no_dicts(self):
+        for name, tree in parsed():
+            for node in tree.body:
+                if isinstance(node, ast.Assign):
+                    for part in ast.walk(node.value):
+                        if part != node.value:
+                            self.assertNotIsInstance(part, (ast.List, ast.Dict, ast.Set, ast.Call), f"{name}: {part}")
+
     def test_l8_l22_only_the_builtins_that_are_named(self):
         barred = set(dir(builtins)) - BUILTINS
         for name, tree in parsed():
@@ -155,6 +191,35 @@ class Shape(unittest.TestCase):
                     called = node.iter.func if isinstance(node.iter, ast.Call) else node.iter
                     self.assertFalse(isinstance(called, ast.Name) and called.id in ("set", "frozenset"), name)
                     self.assertNotIsInstance(node.iter, (ast.Set, ast.SetComp), name)
+
+    def test_l23_iterated_at_once(self):
+        takers = {"list", "tuple", "dict", "sorted", "sum", "any", "all", "enumerate", "zip", "min", "max"}
+        for name, tree in parsed():
+            above = {part: node for node in ast.walk(tree) for part in ast.iter_child_nodes(node)}
+            for node in ast.walk(tree):
+                if not isinstance(node, ast.Call):
+                    continue
+                word = getattr(node.func, "id", getattr(node.func, "attr", None))
+                plain = isinstance(node.func, ast.Name)
+                if word in (("zip", "enumerate", "reversed", "range") if plain else ("items", "keys", "values")):
+                    place = above[node]
+                    looped = isinstance(place, (ast.For, ast.comprehension)) and place.iter == node
+                    taker = getattr(getattr(place, "func", None), "id", None)
+                    turned = word == "range" and taker == "reversed"
+                    self.assertTrue(looped or taker in takers or turned, f"{name}: {node.lineno}")
+
+    def test_l24_where_sets_stand(self):
+        for name, tree in parsed():
+            above = {part: node for node in ast.walk(tree) for part in ast.iter_child_nodes(node)}
+            for node in ast.walk(tree):
+                called = isinstance(node, ast.Call) and getattr(node.func, "id", None) == "set"
+                if called or isinstance(node, (ast.Set, ast.SetComp)):
+                    place = above[node]
+                    if isinstance(place, ast.BinOp):
+                        place = above[place]
+                    kept = isinstance(place, ast.Assign) and isinstance(place.targets[0], ast.Name)
+                    taken = isinstance(place, ast.Call) and getattr(place.func, "id", None) in ("sorted", "len")
+                    self.assertTrue(kept or taken or isinstance(place, ast.Compare), f"{name}: {node.lineno}")
 
     def test_l25_l26_only_the_methods_that_are_named(self):
         trees = parsed()

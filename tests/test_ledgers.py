@@ -239,7 +239,7 @@ class DeedsTest(unittest.TestCase):
             ledger.failed(checks[0])
             ledger.passed(checks[1])
             ledger.failed(checks[3])
-            states = tuple((checks[k], state) for k, state in ((0, "failed"), (2, "void"), (1, "passed"), (3, "failed")))
+            states = ((checks[0], "failed"), (checks[2], "void"), (checks[1], "passed"), (checks[3], "failed"))
             self.assertEqual(ledger.checks(), states)
             self.assertIsNone(ledger.strike(arrow))
             self.assertEqual(ledger.web(), without_arrow(web, arrow))

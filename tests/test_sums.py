@@ -256,8 +256,8 @@ class IsNumbersTest(unittest.TestCase):
 
     def test_no_numbers(self):
         right = (0, 0, 0, 1, 0)
-        for thing in (list(right), right[1:], (*right, 0), (0, 0, 0, True, 0), (False, 0, 0, 1, 0), right[:3] + ("1", 0),
-                      (None,) * 5, (right,), *WRONG_TUPLES):
+        for thing in (list(right), right[1:], (*right, 0), (0, 0, 0, True, 0), (False, 0, 0, 1, 0),
+                      right[:3] + ("1", 0), (None,) * 5, (right,), *WRONG_TUPLES):
             self.assertIs(is_numbers(T, C[:1], thing), False)
         for item in WRONG_NUMBERS:
             whole = isinstance(item, int) and not isinstance(item, bool)
